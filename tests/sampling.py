@@ -1,0 +1,122 @@
+"""Rules, nets and lateness for the tests: drawn from a seeded source, and built at the limits."""
+
+from newsbehind.nets import net_of
+from newsbehind.rules import branches
+
+ONE_INNER = ("times", "part", "clip", "from", "bar", "row")
+LISTS = ("least", "most", "add")
+ZERO = ("is", 0)
+
+# Any value: nothing in any of these is a rule, a net, a state, a past, a lateness or a run.
+ODD_VALUES = (
+    None, True, False, 0, 1, -1, 10 ** 400, "", "is", "rule", b"is", (), [], {}, set(), object(), int, [1], (1,), ((),),
+    (None,), ("is",), ("is", "0"), ("is", None), ("is", True), ["is", 0], ("is", 0, 0), ("", 0), (0, "is"), {"is": 0},
+    range(2), frozenset(), ("hear", -1), ("hear", False), ("hear", 1001), ("least", ()), ("least", 3), (1.0,), 1.5,
+    ((), ()), ([], []), ((), (), ()), ((True,), (("is", 0),)), (("least",),), ({},), ("IS", 0), (("is", 0), 1),
+)
+
+
+class Drawing:
+    """Draws one rule: as many rules in it as wanted, and no more branches than may be heard."""
+
+    def __init__(self, rng, houses, heard=12):
+        self.rng = rng
+        self.houses = houses
+        self.heard = heard
+
+    def leaf(self):
+        if self.heard > 0 and self.rng.random() < 0.6:
+            self.heard -= 1
+            return ("hear", self.rng.randrange(self.houses))
+        return ("is", self.number())
+
+    def number(self):
+        return self.rng.choice((0, 1, 2, 3, 5, 9, 999, 1000, self.rng.randrange(1001)))
+
+    def rule(self, many, levels):
+        """A rule of so many rules, as far as the levels let them in."""
+        if many == 1 or levels == 1:
+            return self.leaf()
+        words = ["list"] * 3 + ["one"] * 3
+        if many >= 4:
+            words += ["middle"] * 2
+        kind = self.rng.choice(words)
+        if kind == "one" and (levels > 2 or many == 2):
+            return self.with_one(self.rule(many - 1, levels - 1))
+        if kind == "middle" and (levels > 2 or many == 4):
+            return ("middle",) + self.inner(many - 1, 3, levels - 1)
+        counts = many - 1 if levels == 2 else self.rng.randint(1, many - 1)
+        return (self.rng.choice(LISTS), self.inner(many - 1, counts, levels - 1))
+
+    def inner(self, many, counts, levels):
+        sizes = [1] * counts
+        for _ in range(many - counts):
+            sizes[self.rng.randrange(counts)] += 1
+        return tuple(self.rule(size, levels) for size in sizes)
+
+    def with_one(self, inner):
+        word = self.rng.choice(ONE_INNER)
+        if word == "row":
+            many = self.rng.choice((1, 2, 5, 63, 64))
+            return (word, tuple(self.number() for _ in range(many)), inner)
+        if word == "clip":
+            return (word,) + tuple(sorted((self.number(), self.number()))) + (inner,)
+        if word == "bar":
+            return (word, self.number(), self.number(), self.number(), inner)
+        if word == "part":
+            return (word, max(1, self.number()), inner)
+        return (word, self.number(), inner)
+
+
+def drawn_rule(rng, houses, many=None):
+    many = many or rng.choice((1, 2, 3, 5, 8, 20, 59, 60))
+    return Drawing(rng, houses).rule(many, 8)
+
+
+def drawn_net(rng, houses=None, many=None, most_top=1000):
+    houses = houses or rng.choice((1, 2, 3, 5, 20))
+    tops = [rng.randrange(most_top + 1) for _ in range(houses)]
+    return net_of(tops, [drawn_rule(rng, houses, many) for _ in range(houses)])
+
+
+def drawn_state(rng, net):
+    return tuple(rng.randint(0, top) for top in net[0])
+
+
+def drawn_past(rng, net, d):
+    return tuple(drawn_state(rng, net) for _ in range(d))
+
+
+def drawn_lateness(rng, net, d, ahead=None):
+    """A lateness for d that may follow the one ahead, if there is one."""
+    rows = []
+    for house, rule in enumerate(net[1]):
+        most = [d] * len(branches(rule)) if ahead is None else [min(d, late + 1) for late in ahead[house]]
+        rows.append(tuple(rng.randint(1, late) for late in most))
+    return tuple(rows)
+
+
+def drawn_run(rng, net, d, beats):
+    latenesses = []
+    for _ in range(beats):
+        latenesses.append(drawn_lateness(rng, net, d, latenesses[-1] if latenesses else None))
+    return (drawn_past(rng, net, d), tuple(latenesses))
+
+
+def within(word, levels, inner=ZERO):
+    """A rule of so many levels: a leaf within rules with one number each."""
+    for _ in range(levels - 1):
+        inner = (word, 1, inner)
+    return inner
+
+
+def greatest_rule(houses=20):
+    """A rule with 12 branches, 60 rules in it, and 8 rules within one another."""
+    leaves = [("hear", number % houses) for number in range(12)] + [("is", 1000)] * 29
+    deep = within("from", 7)
+    rows = [("row", tuple(range(1000, 936, -1)), leaf) for leaf in leaves[:11]]
+    return ("most", (deep,) + tuple(rows) + tuple(leaves[11:]))
+
+
+def greatest_net():
+    return net_of([1000] * 20, [greatest_rule()] * 20)
