@@ -5,6 +5,7 @@ MOST_HOUSES = 20
 MOST_BRANCHES = 12
 MOST_RULES = 60
 MOST_LEVELS = 8
+MOST_ROWS = 4096
 
 
 def is_integer_in(value, low, high):

@@ -112,6 +112,12 @@ TELLING = {
 }
 
 
+def told_of(rule, worths):
+    """What a rule that is no leaf makes of what its inner rules tell, from left to right."""
+    tell = TELLING[rule[0]]
+    return tell(rule, worths)
+
+
 def _told_from(rule, heard, at):
     """A pair: what a rule tells whose first branch is the one with the number at, and the number behind its last."""
     word = rule[0]
@@ -123,8 +129,7 @@ def _told_from(rule, heard, at):
     for part in inner_rules(rule):
         worth, at = _told_from(part, heard, at)
         worths.append(worth)
-    tell = TELLING[word]
-    return tell(rule, worths), at
+    return told_of(rule, worths), at
 
 
 def told(rule, heard):

@@ -1,5 +1,7 @@
 """Rules, nets and lateness for the tests: drawn from a seeded source, and built at the limits."""
 
+import itertools
+
 from newsbehind.nets import net_of
 from newsbehind.rules import branches
 
@@ -19,18 +21,21 @@ ODD_VALUES = (
 class Drawing:
     """Draws one rule: as many rules in it as wanted, and no more branches than may be heard."""
 
-    def __init__(self, rng, houses, heard=12):
+    def __init__(self, rng, houses, heard=12, most=None):
         self.rng = rng
         self.houses = houses
         self.heard = heard
+        self.most = most
 
     def leaf(self):
-        if self.heard > 0 and self.rng.random() < 0.6:
+        if self.heard > 0 and self.rng.random() < (0.6 if self.most is None else 0.9):
             self.heard -= 1
             return ("hear", self.rng.randrange(self.houses))
         return ("is", self.number())
 
     def number(self):
+        if self.most is not None:
+            return self.rng.choice((0, 1, 1, 2, 2, self.most - 1, self.most, self.most))
         return self.rng.choice((0, 1, 2, 3, 5, 9, 999, 1000, self.rng.randrange(1001)))
 
     def rule(self, many, levels):
@@ -55,9 +60,9 @@ class Drawing:
         return tuple(self.rule(size, levels) for size in sizes)
 
     def with_one(self, inner):
-        word = self.rng.choice(ONE_INNER)
+        word = self.rng.choice(ONE_INNER + ("row",) * (0 if self.most is None else 4))
         if word == "row":
-            many = self.rng.choice((1, 2, 5, 63, 64))
+            many = self.rng.choice((1, 2, 5, 63, 64) if self.most is None else (2, 3, 4, 4, 5))
             return (word, tuple(self.number() for _ in range(many)), inner)
         if word == "clip":
             return (word,) + tuple(sorted((self.number(), self.number()))) + (inner,)
@@ -77,6 +82,51 @@ def drawn_net(rng, houses=None, many=None, most_top=1000):
     houses = houses or rng.choice((1, 2, 3, 5, 20))
     tops = [rng.randrange(most_top + 1) for _ in range(houses)]
     return net_of(tops, [drawn_rule(rng, houses, many) for _ in range(houses)])
+
+
+def small_net(rng, houses=3, many=(1, 2, 3, 4, 5, 7), top=3, heard=12):
+    """A net in which all numbers are small, so that what its houses hear matters to them."""
+    tops = [rng.choice((0, 1, top, top, top, top)) for _ in range(houses)]
+    return net_of(tops, [Drawing(rng, houses, heard, top + 1).rule(rng.choice(many), 8) for _ in range(houses)])
+
+
+def straightened(rng, rule):
+    """The rule with the entries of each row in order, up or down: no branch goes both ways."""
+    if rule[0] == "row":
+        return ("row", tuple(sorted(rule[1], reverse=rng.random() < 0.5)), straightened(rng, rule[2]))
+    return tuple(straightened(rng, part) if isinstance(part, tuple) and part and isinstance(part[0], str)
+                 else tuple(straightened(rng, inner) for inner in part) if rule[0] in LISTS and isinstance(part, tuple)
+                 else part for part in rule)
+
+
+def one_way(rng, net):
+    """The net with all rows straightened."""
+    return net_of(net[0], [straightened(rng, rule) for rule in net[1]])
+
+
+def two_sided_net(rng, houses=3, top=3):
+    """A net of even and odd houses, with falling branches between unlike ones and rising ones between alike ones."""
+    tops = [rng.randint(1, top) for _ in range(houses)]
+    sides = [rng.randrange(2) for _ in range(houses)]
+    rules = []
+    for house in range(houses):
+        parts = []
+        for other in rng.choices(range(houses), k=rng.choice((1, 2, 2, 3))):
+            part = ("hear", other)
+            if sides[other] != sides[house]:
+                part = ("from", rng.randint(1, top + 1), part)
+            parts.append(("row", tuple(sorted(rng.choices(range(top + 1), k=3))), part) if rng.random() < 0.3 else part)
+        rules.append((rng.choice(LISTS), tuple(parts)))
+    return net_of(tops, rules), tuple(sides)
+
+
+def all_states(net):
+    return list(itertools.product(*[range(top + 1) for top in net[0]]))
+
+
+def drawn_ends(rng, net):
+    pairs = [sorted((rng.randint(0, top), rng.randint(0, top))) for top in net[0]]
+    return tuple(low for low, _ in pairs), tuple(high for _, high in pairs)
 
 
 def drawn_state(rng, net):

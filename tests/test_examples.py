@@ -2,10 +2,17 @@
 
 import unittest
 
-from newsbehind import beats, lateness, nets, nettexts, reading, rules, tokens
+from newsbehind import (
+    beats, ends, exactways, lateness, lots, nets, nettexts, ranges, reading, resting, restpapers, rules, showing, toggles,
+    tokens, ways,
+)
 
 TWO = 'net_of([3, 3], [("from", 3, ("hear", 1)), ("most", (("is", 1), ("hear", 0)))])'
 LATE = 'net_of([3, 3], [("from", 3, ("hear", 1)), ("hear", 0)])'
+WAYS = ('net_of([3, 2], [("row", (0, 2, 1), ("hear", 1)), ("add", (("hear", 0), ("from", 3, ("hear", 0)), '
+        '("bar", 9, 0, 1, ("hear", 1))))])')
+CALM = 'net_of([3, 3], [("part", 2, ("hear", 1)), ("clip", 1, 2, ("hear", 0))])'
+LOTS = 'net_of([2, 1], [("row", (1, 2, 0), ("hear", 0)), ("bar", 1, 1, 0, ("least", (("hear", 0), ("hear", 1))))])'
 RUN = "(((0, 0), (3, 1)), (((1,), (2,)), ((2,), (1,))))"
 
 EXAMPLES = (
@@ -24,23 +31,37 @@ EXAMPLES = (
      "((';',), ('house',), 1001, (0, 5))"),
     (LATE, "shown(net, 2, run), past_behind(net, 2, run), can_follow(((1,), (3,)), ((2,), (1,)))",
      "(((2, 0), (2, 2)), ((2, 0), (2, 2)), True)"),
+    (LATE, "shown(net, 2, even_run(net, 2, (0, 3), 3)), can_show(net, 2, ((0, 0), (3, 1)), 0, 100)",
+     "(((0, 0), (3, 0), (3, 3)), ((2, 0), (2, 3), (3, 0), (3, 3)))"),
+    (WAYS, "range_of(net, net[1][1]), house_range(net, 1), ways(net, 0), ways(net, 1), are_one_way(net)",
+     "((0, 6), (0, 2), ('both',), ('rises', 'falls', 'none'), False)"),
+    (WAYS, "exact_ways(net, 1), shown_ways(net, 0, 0), end_heard(net, 1, (1, 0), (2, 2))",
+     "(('rises', 'falls', 'none'), ((0,), (1,)), ((1, 2, 0), (2, 1, 2)))"),
+    (TWO, "next_ends(net, first_ends(net)), last_ends(net), rounds_needed(net), rests_always(net), toggle_ends(net)",
+     "(((0, 1), (3, 3)), ((1, 1), (2, 2)), 4, False, ((1, 1), (2, 2)))"),
+    (TWO, "toggle_run(net, 2, ((1, 1), (2, 2)), 2)", "(((1, 1), (2, 2)), (((1,), (2,)), ((1,), (2,))))"),
+    (TWO,
+     f"the_rest({CALM}), rounds_needed({CALM}), settled_from({CALM}, 2), ends_at({CALM}, 2, 2), resting_houses(net)",
+     "((0, 1), 3, 4, ((0, 1), (1, 1)), ())"),
+    (CALM, "is_rest_paper(net, (((0, 0), (3, 3)), ((0, 1), (1, 2)), ((0, 1), (1, 1)), ((0, 1), (0, 1))))", "True"),
+    (LOTS, "lots_next(net, ((0, 2), (1,))), len(lot_rounds(net)), last_lots(net), is_sure(net)",
+     "(((0, 1), (0, 1)), 1, ((0, 1, 2), (0, 1)), False)"),
+    ('net_of([3], [("part", 2, ("hear", 0))])', "lot_rounds(net), known_rounds(net)",
+     "((((0, 1, 2, 3),), ((0, 1),), ((0,),)), (2,))"),
 )
+
+MODULES = (rules, nets, tokens, nettexts, reading, lateness, beats, showing, ranges, ways, exactways, ends, resting,
+           restpapers, toggles, lots)
 
 
 class ExamplesTest(unittest.TestCase):
     def test_each_row(self):
         names = {}
-        for module in (rules, nets, tokens, nettexts, reading, lateness, beats):
+        for module in MODULES:
             names.update(vars(module))
         for net, row, answer in EXAMPLES:
             scope = dict(names, net=eval(net, dict(names)), run=eval(RUN))
             self.assertEqual(repr(eval(row, scope)), answer)
-
-    def test_even_news_of_chapter_5(self):
-        """The example's even run, written out: its own function is of another module."""
-        net = nets.net_of([3, 3], [("from", 3, ("hear", 1)), ("hear", 0)])
-        even = (((0, 3), (0, 3)), (((1,), (1,)),) * 3)
-        self.assertEqual(beats.shown(net, 2, even), ((0, 0), (3, 0), (3, 3)))
 
 
 if __name__ == "__main__":

@@ -83,6 +83,26 @@ class LanguageTest(unittest.TestCase):
                 if isinstance(node, ast.Name) and isinstance(node.ctx, ast.Store):
                     self.assertNotIn(node.id, brought, name)
 
+    def test_sets_are_not_iterated(self):
+        for name, _, tree in self.files():
+            for node in ast.walk(tree):
+                for inner in ast.iter_child_nodes(node):
+                    is_set = isinstance(inner, (ast.Set, ast.SetComp)) or (
+                        isinstance(inner, ast.Call) and isinstance(inner.func, ast.Name) and inner.func.id == "set")
+                    if is_set and isinstance(node, ast.Call):
+                        self.assertIn(node.func.id, ("sorted", "len"), name)
+                    elif is_set:
+                        self.assertIsInstance(node, (ast.Assign, ast.Compare), name)
+
+    def test_powers_and_generators(self):
+        for name, _, tree in self.files():
+            for node in ast.walk(tree):
+                self.assertNotIsInstance(node, (ast.Pow, ast.Yield, ast.YieldFrom), name)
+                for inner in ast.iter_child_nodes(node):
+                    if isinstance(inner, ast.GeneratorExp):
+                        self.assertIsInstance(node, ast.Call, name)
+                        self.assertIn(node.func.id, ("all", "any", "sum", "min", "max", "sorted", "list", "tuple"), name)
+
     def test_no_floats_and_no_global_names(self):
         for name, _, tree in self.files():
             for node in ast.walk(tree):

@@ -4,9 +4,13 @@ import copy
 import random
 import unittest
 
-from newsbehind import beats, lateness, nets, nettexts, reading, rules, tokens
+from newsbehind import (
+    beats, ends, exactways, lateness, lots, nets, nettexts, ranges, reading, resting, restpapers, rules, showing, toggles,
+    tokens, ways,
+)
+from newsbehind.errors import InvalidQuestion, Refused
 from newsbehind.nettexts import net_text
-from sampling import drawn_lateness, drawn_net, drawn_run
+from sampling import drawn_ends, drawn_lateness, drawn_net, drawn_run, one_way, small_net
 
 INTERFACE = {
     rules: "is_rule branches told",
@@ -17,6 +21,15 @@ INTERFACE = {
     reading: "read_net may_follow completed",
     lateness: "is_past is_lateness can_follow is_run",
     beats: "shows_next shown past_behind led_on",
+    showing: "even_run can_show",
+    ranges: "range_of house_range",
+    ways: "ways are_one_way end_heard",
+    exactways: "exact_ways shown_ways",
+    ends: "first_ends next_ends ends_behind last_ends rounds_needed",
+    resting: "rests_always the_rest resting_houses ends_at settled_from",
+    restpapers: "rest_paper is_rest_paper",
+    toggles: "toggle_ends is_toggle toggle_run",
+    lots: "first_lots lots_next lot_rounds last_lots known_rounds is_sure",
 }
 ARGUMENTS = {
     "is_rule": "value", "branches": "rule", "told": "rule heard", "is_net": "value", "is_state": "net value",
@@ -26,22 +39,36 @@ ARGUMENTS = {
     "token_places": "text", "net_tokens": "net", "net_text": "net", "read_net": "text", "may_follow": "text",
     "completed": "text", "is_past": "net d value", "is_lateness": "net d value", "can_follow": "lateness later",
     "is_run": "net d value", "shows_next": "net past lateness", "shown": "net d run", "past_behind": "net d run",
-    "led_on": "net d run latenesses",
+    "led_on": "net d run latenesses", "even_run": "net d state beats", "can_show": "net d past beat most",
+    "range_of": "net rule", "house_range": "net house", "ways": "net house", "are_one_way": "net",
+    "end_heard": "net house lows highs", "exact_ways": "net house", "shown_ways": "net house branch", "first_ends": "net",
+    "next_ends": "net ends", "ends_behind": "net rounds", "last_ends": "net", "rounds_needed": "net", "rests_always": "net",
+    "the_rest": "net", "resting_houses": "net", "ends_at": "net d beat", "settled_from": "net d", "rest_paper": "net",
+    "is_rest_paper": "net value", "toggle_ends": "net", "is_toggle": "net value", "toggle_run": "net d ends beats",
+    "first_lots": "net", "lots_next": "net lots", "lot_rounds": "net", "last_lots": "net", "known_rounds": "net",
+    "is_sure": "net",
 }
 
 
 def arguments(rng):
     """For each name of an argument something to pass; the values are passed where any value may be."""
-    net = drawn_net(rng, houses=3, many=rng.choice((2, 9)), most_top=9)
+    net = rng.choice((drawn_net(rng, houses=3, many=rng.choice((2, 9)), most_top=9), small_net(rng, heard=2)))
+    if rng.random() < 0.7:
+        net = one_way(rng, net)
     d = rng.choice((2, 3, 9))
     run = drawn_run(rng, net, d, 4)
-    house = rng.randrange(3)
-    values = [net[1][0], net, run, run[0], run[1][0], run[0][0], [1, [2]], {"is": [0]}, [net, [run]], None]
+    hearing = [house for house in range(3) if rules.branches(net[1][house])]
+    house = rng.choice(hearing or [0])
+    lows, highs = drawn_ends(rng, net)
+    values = [net[1][0], net, run, run[0], run[1][0], run[0][0], [1, [2]], {"is": [0]}, [net, [run]], None, (lows, highs),
+              [[lows], highs], (((0,) * 3, net[0]), [(lows, lows)]), ((lows, list(highs)),)]
     return {
         "net": net, "house": house, "state": run[0][0], "rule": net[1][house], "d": d, "run": run, "past": run[0],
         "lateness": run[1][0], "later": run[1][1], "latenesses": (drawn_lateness(rng, net, d, run[1][-1]),),
         "heard": (1,) * len(rules.branches(net[1][house])), "worth": 0, "names": tuple(rng.sample(range(3), 3)), "tops": list(net[0]),
-        "rules": list(net[1]), "text": net_text(net), "value": rng.choice(values),
+        "rules": list(net[1]), "text": net_text(net), "value": rng.choice(values), "beats": 3, "beat": 1, "most": 3000,
+        "branch": 0 if hearing else None, "lows": lows, "highs": highs, "ends": (lows, highs), "rounds": 2,
+        "lots": tuple(tuple(range(low, high + 1)) for low, high in zip(lows, highs)),
     }
 
 
@@ -50,6 +77,14 @@ def is_of_tuples(value):
     if type(value) is tuple:
         return all(is_of_tuples(entry) for entry in value)
     return value is None or type(value) in (int, str, bool)
+
+
+def asked(function, given):
+    """What a function tells, or the error by which it refuses the question."""
+    try:
+        return "told", function(**given)
+    except (Refused, InvalidQuestion) as error:
+        return type(error).__name__, error.at
 
 
 class ValuesTest(unittest.TestCase):
@@ -66,25 +101,34 @@ class ValuesTest(unittest.TestCase):
 
     def test_nothing_is_changed_and_all_is_of_tuples(self):
         rng = random.Random(31)
-        for _ in range(40):
+        told_by = {}
+        for _ in range(60):
             passed = arguments(rng)
             for _, function in self.functions():
-                given = {name: passed[name] for name in ARGUMENTS[function.__name__].split()}
+                name = function.__name__
+                if name == "shown_ways" and passed["branch"] is None:
+                    continue
+                given = {argument: passed[argument] for argument in ARGUMENTS[name].split()}
                 before = copy.deepcopy(given)
-                told = function(**given)
+                told = asked(function, given)
                 self.assertEqual(given, before)
-                self.assertIs(is_of_tuples(told), True, (function.__name__, told))
-                self.assertEqual(function(**before), told)
-                self.assertIs(type(function(*given.values())), type(told))
+                self.assertIs(is_of_tuples(told), True, (name, told))
+                self.assertEqual(asked(function, before), told)
+                if told[0] == "told":
+                    told_by[name] = told_by.get(name, 0) + 1
+                    self.assertIs(type(function(*given.values())), type(told[1]))
+        self.assertEqual(set(told_by), set(ARGUMENTS))
+        self.assertGreater(min(told_by.values()), 4)
 
     def test_whether_is_answered_by_true_or_false(self):
         rng = random.Random(32)
         for _ in range(20):
             passed = arguments(rng)
             for _, function in self.functions():
-                if function.__name__.startswith(("is_", "can_")):
-                    told = function(**{name: passed[name] for name in ARGUMENTS[function.__name__].split()})
-                    self.assertIn(repr(told), ("True", "False"))
+                name = function.__name__
+                if name.startswith(("is_", "can_follow", "are_", "rests_")):
+                    kind, told = asked(function, {argument: passed[argument] for argument in ARGUMENTS[name].split()})
+                    self.assertTrue(kind != "told" or repr(told) in ("True", "False"), name)
 
 
 if __name__ == "__main__":
