@@ -6,14 +6,19 @@ MOST_BRANCHES = 12
 MOST_RULES = 60
 MOST_LEVELS = 8
 MOST_ROWS = 4096
+MOST_OLD = 9
+MOST_LOOSE_BEATS = 60
+
+
+def is_integer(value):
+    """Whether any value is an integer."""
+    # Python holds True and False to be integers, this package does not.
+    return isinstance(value, int) and not isinstance(value, bool)
 
 
 def is_integer_in(value, low, high):
     """Whether any value is an integer from low to high."""
-    # Python holds True and False to be integers, this package does not.
-    if not isinstance(value, int) or isinstance(value, bool):
-        return False
-    return low <= value <= high
+    return is_integer(value) and low <= value <= high
 
 
 def are_integers_in(values, low, high):

@@ -24,17 +24,22 @@ def shows_next(net, past, lateness):
     return _shown_behind(net, _houses_heard(net), past, lateness)
 
 
+def shown_at_beats(net, past, latenesses):
+    """The states that are shown at the beats with these latenesses, behind this past."""
+    heard_houses = _houses_heard(net)
+    states = list(past)
+    for lateness in latenesses:
+        states.append(_shown_behind(net, heard_houses, states, lateness))
+    return tuple(states[len(past):])
+
+
 def shown(net, d, run):
     """The states that are shown at the beats of a run."""
     at = run_fault(net, d, run)
     if at is not None:
         raise InvalidRun(at)
     past, latenesses = run
-    heard_houses = _houses_heard(net)
-    states = list(past)
-    for lateness in latenesses:
-        states.append(_shown_behind(net, heard_houses, states, lateness))
-    return tuple(states[d:])
+    return shown_at_beats(net, past, latenesses)
 
 
 def past_behind(net, d, run):

@@ -1,6 +1,6 @@
 """Ways of branches told by looking at all rows of worths."""
 
-from newsbehind.rowtables import all_wants, check_rows, row_places, tops_heard
+from newsbehind.rowtables import all_wants, check_rows, row_at, row_places, tops_heard
 
 
 def _first_steps(wants, place, top):
@@ -36,11 +36,9 @@ def exact_ways(net, house):
     return tuple(words)
 
 
-def _row_at(tops, at):
+def _shown_row(tops, at):
     """The row of worths with an index in the table, None for None."""
-    if at is None:
-        return None
-    return tuple([(at // place) % (top + 1) for place, top in zip(row_places(tops), tops)])
+    return None if at is None else row_at(tops, at)
 
 
 def shown_ways(net, house, branch):
@@ -48,4 +46,4 @@ def shown_ways(net, house, branch):
     check_rows(net, house)
     tops = tops_heard(net, house)
     rise, fall = _first_steps(all_wants(net, house), row_places(tops)[branch], tops[branch])
-    return _row_at(tops, rise), _row_at(tops, fall)
+    return _shown_row(tops, rise), _shown_row(tops, fall)

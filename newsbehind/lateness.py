@@ -12,11 +12,12 @@ def is_past(net, d, value):
     return all(is_state(net, entry) for entry in value)
 
 
-def _branch_counts(net):
+def branch_counts(net):
+    """For each house how many branches its rule has."""
     return [len(branches(rule)) for rule in net[1]]
 
 
-def _fits(counts, d, value):
+def fits_counts(counts, d, value):
     """Whether any value is a lateness for houses with so many branches."""
     if not isinstance(value, tuple) or len(value) != len(counts):
         return False
@@ -28,7 +29,7 @@ def _fits(counts, d, value):
 
 def is_lateness(net, d, value):
     """Whether any value is a lateness for d."""
-    return _fits(_branch_counts(net), d, value)
+    return fits_counts(branch_counts(net), d, value)
 
 
 def can_follow(lateness, later):
@@ -40,11 +41,10 @@ def can_follow(lateness, later):
     return True
 
 
-def _first_wrong(net, d, latenesses):
+def first_wrong(counts, d, latenesses):
     """The index of the first entry that is no lateness or may not follow, None if there is none."""
-    counts = _branch_counts(net)
     for at, entry in enumerate(latenesses):
-        if not _fits(counts, d, entry):
+        if not fits_counts(counts, d, entry):
             return at
         if at > 0 and not can_follow(latenesses[at - 1], entry):
             return at
@@ -57,7 +57,7 @@ def run_fault(net, d, value):
         return 0
     if not isinstance(value[1], tuple):
         return 1
-    wrong = _first_wrong(net, d, value[1])
+    wrong = first_wrong(branch_counts(net), d, value[1])
     return None if wrong is None else wrong + 2
 
 

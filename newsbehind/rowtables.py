@@ -30,6 +30,11 @@ def row_places(tops):
     return places[::-1]
 
 
+def row_at(tops, at):
+    """The row of worths with this index among all rows, ascending."""
+    return tuple([(at // place) % (top + 1) for place, top in zip(row_places(tops), tops)])
+
+
 def _least_of(ahead, behind):
     return [one if one < other else other for one in ahead for other in behind]
 

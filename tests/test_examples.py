@@ -3,8 +3,8 @@
 import unittest
 
 from newsbehind import (
-    beats, ends, exactways, lateness, lots, nets, nettexts, ranges, reading, resting, restpapers, rules, showing, toggles,
-    tokens, ways,
+    beats, ends, exactways, fastbeats, lateness, looseruns, lotpapers, lots, nets, nettexts, pricing, ranges, ratios, reading,
+    resting, restpapers, rules, shares, showing, tablenets, tablerests, tableruns, toggles, tokens, ways,
 )
 
 TWO = 'net_of([3, 3], [("from", 3, ("hear", 1)), ("most", (("is", 1), ("hear", 0)))])'
@@ -13,6 +13,10 @@ WAYS = ('net_of([3, 2], [("row", (0, 2, 1), ("hear", 1)), ("add", (("hear", 0), 
         '("bar", 9, 0, 1, ("hear", 1))))])')
 CALM = 'net_of([3, 3], [("part", 2, ("hear", 1)), ("clip", 1, 2, ("hear", 0))])'
 LOTS = 'net_of([2, 1], [("row", (1, 2, 0), ("hear", 0)), ("bar", 1, 1, 0, ("least", (("hear", 0), ("hear", 1))))])'
+OTHER = 'net_of([3], [("part", 2, ("hear", 0))])'
+TABLE = "table_net_of([[0, (1, 2)], [-1, (1, 4)]], [1, 0])"
+SWINGING = "table_net_of([[2]], [0])"
+PAPER = "(((0, 1, 2),), (((2,), (0,), (1,)),))"
 RUN = "(((0, 0), (3, 1)), (((1,), (2,)), ((2,), (1,))))"
 
 EXAMPLES = (
@@ -46,12 +50,24 @@ EXAMPLES = (
     (CALM, "is_rest_paper(net, (((0, 0), (3, 3)), ((0, 1), (1, 2)), ((0, 1), (1, 1)), ((0, 1), (0, 1))))", "True"),
     (LOTS, "lots_next(net, ((0, 2), (1,))), len(lot_rounds(net)), last_lots(net), is_sure(net)",
      "(((0, 1), (0, 1)), 1, ((0, 1, 2), (0, 1)), False)"),
-    ('net_of([3], [("part", 2, ("hear", 0))])', "lot_rounds(net), known_rounds(net)",
-     "((((0, 1, 2, 3),), ((0, 1),), ((0,),)), (2,))"),
+    (OTHER, "lot_rounds(net), known_rounds(net), lot_paper(net)",
+     "((((0, 1, 2, 3),), ((0, 1),), ((0,),)), (2,), None)"),
+    (LOTS, f"is_lot_paper(net_of([2], [net[1][0]]), {PAPER}), restless_run(net_of([2], [net[1][0]]), {PAPER}, 3, 2)",
+     "(True, (((0,), (1,), (2,)), (((1,),), ((1,),))))"),
+    (TABLE, "net[0][1], table_wanted(net, 1, ((2, 1), (1, 1))), price_sums(net, (2, 3)), are_prices(net, (2, 3))",
+     "(((-1, 1), (1, 4)), (-7, 4), ((3, 2), (11, 4)), True)"),
+    (TABLE, "pivots(net), share(net, (2, 3)), some_rest(net), farthest(net, some_rest(net), (2, 3), (((0, 1), (0, 1)),))",
+     "(((1, 1), (1, 4)), (11, 12), ((3, 5), (-4, 5)), (3, 10))"),
+    (SWINGING, "pivots(net), are_swinging(net, (1,)), table_states(net, swing_run(net, (1,), 3))",
+     "(((-1, 1),), True, (((2, 1),), ((-2, 1),), ((4, 1),)))"),
+    (TABLE, 'priced_below(net, (1, 2))[0], are_below(net, (1, 2), ("swing", (1, 1))), '
+     'are_below(net, (1, 1), ("prices", (2, 3)))', "('swing', True, True)"),
+    (TABLE, "share_between(net, 4)[:2], beats_for(net, (2, 3), 2, (10, 1), (1, 1))", "(((45, 64), (27, 32)), 52)"),
 )
 
 MODULES = (rules, nets, tokens, nettexts, reading, lateness, beats, showing, ranges, ways, exactways, ends, resting,
-           restpapers, toggles, lots)
+           restpapers, toggles, lots, looseruns, lotpapers, ratios, tablenets, pricing, tablerests, tableruns, shares,
+           fastbeats)
 
 
 class ExamplesTest(unittest.TestCase):

@@ -6,8 +6,10 @@ import unittest
 
 from newsbehind.beats import shown
 from newsbehind.ends import ends_behind, first_ends, last_ends, next_ends, rounds_needed
-from newsbehind.errors import Refused
+from newsbehind.errors import InvalidQuestion, Refused
 from newsbehind.exactways import exact_ways, shown_ways
+from newsbehind.looseruns import is_loose_run, loose_states
+from newsbehind.lotpapers import is_lot_paper, lot_paper, restless_run
 from newsbehind.lots import first_lots, is_sure, known_rounds, last_lots, lot_rounds, lots_next
 from newsbehind.nets import is_rest, net_of
 from newsbehind.ranges import house_range, range_of
@@ -17,7 +19,7 @@ from newsbehind.rules import branches
 from newsbehind.showing import can_show, even_run
 from newsbehind.toggles import is_toggle, toggle_ends, toggle_run
 from newsbehind.ways import are_one_way, end_heard, ways
-from sampling import drawn_net, drawn_run, drawn_state, greatest_net, greatest_rule, one_way
+from sampling import drawn_lateness, drawn_net, drawn_run, drawn_state, greatest_net, greatest_rule, one_way
 
 SECONDS = 40
 
@@ -140,9 +142,39 @@ class GreatNetsTest(unittest.TestCase):
             rounds = lot_rounds(net)
             self.assertTrue(lots_next(net, first_lots(net)) == rounds[1])
             self.assertTrue(lots_next(net, rounds[-1]) == rounds[-1] == last_lots(net))
+            paper = lot_paper(net)
+            self.assertEqual(paper is None, is_sure(net))
+            if paper:
+                self.assertTrue(paper[0] == rounds[-1])
+                self.assertIs(is_lot_paper(net, paper), True)
             words = exact_ways(net, 7)
             self.assertEqual(len(words), len(branches(net[1][7])))
             self.assertEqual([row is None for row in shown_ways(net, 7, 0)], [words[0] not in ("rises", "both"), True])
+
+    def test_papers_of_lots_of_4096_rows(self):
+        # Each house turns its own worth round and hears the others for nothing: the last lots are the first ones.
+        for heard, top in ((12, 1), (6, 3), (4, 7), (2, 63)):
+            row = tuple(range(1, top + 1)) + (0,)
+            idle = tuple(("times", 0, ("hear", number)) for number in range(heard - 1))
+            rules = [("add", (("row", row, ("hear", house)),) + idle) for house in range(20)]
+            net = net_of([top] * 20, rules)
+            paper = lot_paper(net)
+            self.assertTrue(paper[0] == first_lots(net))
+            self.assertIs(is_lot_paper(net, paper), True)
+            if top < 9:
+                run = restless_run(net, paper, 9, 60)
+                self.assertIs(is_loose_run(net, run), True)
+                self.assertEqual(loose_states(net, run)[-1], (59 % (top + 1),) * 20)
+            else:
+                with self.assertRaises(InvalidQuestion):
+                    restless_run(net, paper, 9, 60)
+
+    def test_a_loose_run_of_the_greatest_net(self):
+        rng = random.Random(155)
+        net = greatest_net()
+        run = (tuple(drawn_state(rng, net) for _ in range(9)), tuple(drawn_lateness(rng, net, 9) for _ in range(60)))
+        self.assertIs(is_loose_run(net, run), True)
+        self.assertEqual(len(loose_states(net, run)), 60)
 
     def test_all_that_shows_of_many_latenesses(self):
         net = net_of([1000, 1000], [("from", 1000, ("hear", 1)), ("part", 2, ("add", (("hear", 0), ("hear", 1))))])

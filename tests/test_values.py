@@ -5,12 +5,13 @@ import random
 import unittest
 
 from newsbehind import (
-    beats, ends, exactways, lateness, lots, nets, nettexts, ranges, reading, resting, restpapers, rules, showing, toggles,
-    tokens, ways,
+    beats, ends, exactways, fastbeats, lateness, looseruns, lotpapers, lots, nets, nettexts, pricing, ranges, ratios, reading,
+    resting, restpapers, rules, shares, showing, tablenets, tablerests, tableruns, toggles, tokens, ways,
 )
 from newsbehind.errors import InvalidQuestion, Refused
 from newsbehind.nettexts import net_text
 from sampling import drawn_ends, drawn_lateness, drawn_net, drawn_run, one_way, small_net
+from tables import drawn_table_net, drawn_table_run
 
 INTERFACE = {
     rules: "is_rule branches told",
@@ -30,7 +31,18 @@ INTERFACE = {
     restpapers: "rest_paper is_rest_paper",
     toggles: "toggle_ends is_toggle toggle_run",
     lots: "first_lots lots_next lot_rounds last_lots known_rounds is_sure",
+    looseruns: "is_loose_run loose_states",
+    lotpapers: "lot_paper is_lot_paper restless_run",
+    ratios: "fraction is_fraction",
+    tablenets: "is_table_net table_net_of table_branches table_wanted",
+    pricing: "price_sums are_prices are_swinging priced pivots",
+    tablerests: "some_rest has_one_rest share farthest",
+    tableruns: "is_table_run table_states swing_run",
+    shares: "priced_below are_below share_between is_share_paper",
+    fastbeats: "beats_for",
 }
+# Here a net, a house and so on are those of chapters 9 and 10.
+TABLES = (tablenets, pricing, tablerests, tableruns, shares, fastbeats)
 ARGUMENTS = {
     "is_rule": "value", "branches": "rule", "told": "rule heard", "is_net": "value", "is_state": "net value",
     "net_of": "tops rules", "wanted": "net house heard", "heard_in": "net house state", "next_state": "net state",
@@ -46,7 +58,14 @@ ARGUMENTS = {
     "the_rest": "net", "resting_houses": "net", "ends_at": "net d beat", "settled_from": "net d", "rest_paper": "net",
     "is_rest_paper": "net value", "toggle_ends": "net", "is_toggle": "net value", "toggle_run": "net d ends beats",
     "first_lots": "net", "lots_next": "net lots", "lot_rounds": "net", "last_lots": "net", "known_rounds": "net",
-    "is_sure": "net",
+    "is_sure": "net", "is_loose_run": "net value", "loose_states": "net run", "lot_paper": "net", "is_lot_paper": "net value",
+    "restless_run": "net paper late beats", "fraction": "a d", "is_fraction": "value", "is_table_net": "value",
+    "table_net_of": "table adds", "table_branches": "net house", "table_wanted": "net house heard",
+    "price_sums": "net prices", "are_prices": "net value", "are_swinging": "net value", "priced": "net", "pivots": "net",
+    "some_rest": "net", "has_one_rest": "net", "share": "net prices", "farthest": "net rest prices states",
+    "is_table_run": "net value", "table_states": "net run", "swing_run": "net swing beats", "priced_below": "net by",
+    "are_below": "net by value", "share_between": "net halvings", "is_share_paper": "net value",
+    "beats_for": "net prices d far near",
 }
 
 
@@ -68,7 +87,31 @@ def arguments(rng):
         "heard": (1,) * len(rules.branches(net[1][house])), "worth": 0, "names": tuple(rng.sample(range(3), 3)), "tops": list(net[0]),
         "rules": list(net[1]), "text": net_text(net), "value": rng.choice(values), "beats": 3, "beat": 1, "most": 3000,
         "branch": 0 if hearing else None, "lows": lows, "highs": highs, "ends": (lows, highs), "rounds": 2,
-        "lots": tuple(tuple(range(low, high + 1)) for low, high in zip(lows, highs)),
+        "lots": tuple(tuple(range(low, high + 1)) for low, high in zip(lows, highs)), "a": rng.randint(-9, 9),
+        "paper": paper_of(net), "late": 9,
+    }
+
+
+def paper_of(net):
+    """The paper of the last lots, or None."""
+    try:
+        return lotpapers.lot_paper(net)
+    except Refused:
+        return None
+
+
+def table_arguments(rng):
+    """For each name of an argument something to pass to the functions of tables."""
+    net = drawn_table_net(rng, houses=2, most=2)
+    prices = (rng.randint(1, 4), rng.randint(1, 4))
+    run = drawn_table_run(rng, net, rng.choice((2, 3)), 3)
+    kind, numbers = pricing.priced(net)
+    values = [net, run, numbers, (kind, numbers), list(net), [run], [2, 1], (1, [2]), shares.share_between(net, 3), {"is": [0]}]
+    return {
+        "net": net, "house": rng.randrange(2), "value": rng.choice(values), "run": run, "beats": 3, "prices": prices,
+        "swing": numbers, "heard": ((1, 2), (-3, 1)), "rest": run[0][0], "states": run[0], "by": (1, rng.randint(1, 3)),
+        "halvings": 3, "table": [[1, (2, -4)], [0, -1]], "adds": [(3, 9), 4], "d": 2, "far": (rng.randint(1, 99), 1),
+        "near": (1, 2),
     }
 
 
@@ -103,12 +146,13 @@ class ValuesTest(unittest.TestCase):
         rng = random.Random(31)
         told_by = {}
         for _ in range(60):
-            passed = arguments(rng)
-            for _, function in self.functions():
+            passed, for_tables = arguments(rng), table_arguments(rng)
+            for module, function in self.functions():
                 name = function.__name__
-                if name == "shown_ways" and passed["branch"] is None:
+                given_by = for_tables if module in TABLES else passed
+                if (name == "shown_ways" and passed["branch"] is None) or (name == "restless_run" and not passed["paper"]):
                     continue
-                given = {argument: passed[argument] for argument in ARGUMENTS[name].split()}
+                given = {argument: given_by[argument] for argument in ARGUMENTS[name].split()}
                 before = copy.deepcopy(given)
                 told = asked(function, given)
                 self.assertEqual(given, before)
@@ -123,11 +167,12 @@ class ValuesTest(unittest.TestCase):
     def test_whether_is_answered_by_true_or_false(self):
         rng = random.Random(32)
         for _ in range(20):
-            passed = arguments(rng)
-            for _, function in self.functions():
+            passed, for_tables = arguments(rng), table_arguments(rng)
+            for module, function in self.functions():
                 name = function.__name__
-                if name.startswith(("is_", "can_follow", "are_", "rests_")):
-                    kind, told = asked(function, {argument: passed[argument] for argument in ARGUMENTS[name].split()})
+                if name.startswith(("is_", "can_follow", "are_", "rests_", "has_")):
+                    given_by = for_tables if module in TABLES else passed
+                    kind, told = asked(function, {argument: given_by[argument] for argument in ARGUMENTS[name].split()})
                     self.assertTrue(kind != "told" or repr(told) in ("True", "False"), name)
 
 
