@@ -21,6 +21,13 @@ def is_integer_in(value, low, high):
     return is_integer(value) and low <= value <= high
 
 
+def is_ascending(value, low, high):
+    """Whether any value is an ascending tuple of integers from low to high."""
+    if not isinstance(value, tuple) or not are_integers_in(value, low, high):
+        return False
+    return all(entry < later for entry, later in zip(value, value[1:]))
+
+
 def are_integers_in(values, low, high):
     """Whether all entries of a list or tuple are integers from low to high."""
     return all(is_integer_in(entry, low, high) for entry in values)

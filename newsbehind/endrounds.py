@@ -31,7 +31,7 @@ class EndWants:
         row = ends[0] + ends[1]
         turned = [place for place, worth in enumerate(row) if worth != self.row[place]]
         wants = list(self.wants)
-        for end in sorted({hearer for place in turned for hearer in self.hearers[place]}):
+        for end in self.hearing(turned):
             tell = self.tellers[end]
             wants[end] = min(tell(row), self.tops[end])
         self.row = row
@@ -44,6 +44,47 @@ class EndWants:
     def stays(self):
         """Whether the ends that are heard are their own next ones."""
         return self.wants == self.row
+
+    def hearing(self, places):
+        """The places of the ends that hear one of these places, ascending."""
+        return sorted({hearer for place in places for hearer in self.hearers[place]})
+
+    def led_on(self, row, held, waiting):
+        """The ends to which a row leads if those of the held houses stay; the waiting ones may want something else.
+
+        Each end is taken to what it wants as soon as that is known: no round is told, but the last ends are the same.
+        """
+        free = [place % self.many not in held for place in range(len(row))]
+        while waiting:
+            turned = []
+            for place in waiting:
+                tell = self.tellers[place]
+                worth = min(tell(row), self.tops[place])
+                if free[place] and worth != row[place]:
+                    row[place] = worth
+                    turned.append(place)
+            waiting = self.hearing(turned)
+        return tuple(row[:self.many]), tuple(row[self.many:])
+
+    def settled(self, ends, held):
+        """The ends to which these lead if those of the held houses stay, the next ends of these lying within them."""
+        return self.led_on(list(ends[0] + ends[1]), held, list(range(2 * self.many)))
+
+    def settled_at(self, ends, held, state):
+        """The ends to which ends that nothing leads on lead if the held houses show what they show in a state."""
+        row = list(ends[0] + ends[1])
+        turned = []
+        for house in held:
+            for place in (house, house + self.many):
+                if row[place] != state[house]:
+                    row[place] = state[house]
+                    turned.append(place)
+        return self.led_on(row, held, self.hearing(turned))
+
+
+def ends_led_to(net, words, ends):
+    """The ends to which these lead, their next ends lying within them."""
+    return EndWants(net, words, ends).settled(ends, ())
 
 
 def rounds_from(net, words, ends, most):

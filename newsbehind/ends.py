@@ -1,6 +1,6 @@
 """Ends: between which worths each house shows, round by round from below and above."""
 
-from newsbehind.endrounds import EndWants, rounds_from
+from newsbehind.endrounds import EndWants, ends_led_to, rounds_from
 from newsbehind.nets import is_state
 from newsbehind.ways import one_way_words
 
@@ -55,7 +55,7 @@ def ends_behind(net, rounds):
 
 def last_ends(net):
     """The first ends from the first ones on that are their own next ones."""
-    return all_rounds(net)[-1]
+    return ends_led_to(net, one_way_words(net), widest_ends(net))
 
 
 def rounds_needed(net):

@@ -38,7 +38,7 @@ def exact_ways(net, house):
 
 def _shown_row(tops, at):
     """The row of worths with an index in the table, None for None."""
-    return None if at is None else row_at(tops, at)
+    return None if at is None else row_at(tops, row_places(tops), at)
 
 
 def shown_ways(net, house, branch):

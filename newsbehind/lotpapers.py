@@ -1,24 +1,18 @@
 """Papers of lots: lots whose worths bring one another about for ever, and the runs that show it."""
 
-from newsbehind.basics import MOST_NUMBER, are_integers_in
+from newsbehind.basics import MOST_NUMBER, are_integers_in, is_ascending
 from newsbehind.errors import InvalidQuestion
 from newsbehind.lots import last_lots
-from newsbehind.rowtables import row_at, wants_over
+from newsbehind.rowtables import row_at, row_places, wants_over
 from newsbehind.rules import branches
 from newsbehind.tellers import teller
-
-
-def _is_lot(value, top):
-    if not isinstance(value, tuple) or len(value) == 0 or not are_integers_in(value, 0, top):
-        return False
-    return all(worth < later for worth, later in zip(value, value[1:]))
 
 
 def _are_lots(net, value):
     """Whether any value is lots of a net."""
     if not isinstance(value, tuple) or len(value) != len(net[0]):
         return False
-    return all(_is_lot(lot, top) for lot, top in zip(value, net[0]))
+    return all(is_ascending(lot, 0, top) and len(lot) > 0 for lot, top in zip(value, net[0]))
 
 
 def _can_be_brought(row, houses, members):
@@ -60,9 +54,11 @@ def _reasons(net, house, lots):
     first = {}
     for at, worth in enumerate(wants_over(net, house, heard)):
         first.setdefault(worth, at)
+    last = [len(lot) - 1 for lot in heard]
+    places = row_places(last)
     rows = []
     for worth in lots[house]:
-        indexes = row_at([len(lot) - 1 for lot in heard], first[worth])
+        indexes = row_at(last, places, first[worth])
         rows.append(tuple([lot[index] for lot, index in zip(heard, indexes)]))
     return tuple(rows)
 

@@ -30,9 +30,9 @@ def row_places(tops):
     return places[::-1]
 
 
-def row_at(tops, at):
-    """The row of worths with this index among all rows, ascending."""
-    return tuple([(at // place) % (top + 1) for place, top in zip(row_places(tops), tops)])
+def row_at(tops, places, at):
+    """The row of worths with this index among all rows, ascending; the places are those of row_places."""
+    return tuple([(at // place) % (top + 1) for place, top in zip(places, tops)])
 
 
 def _least_of(ahead, behind):

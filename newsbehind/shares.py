@@ -14,7 +14,7 @@ def priced_below(net, by):
 
 def are_below(net, by, value):
     """Whether any value is such a pair for a share."""
-    if not isinstance(value, tuple) or len(value) != 2 or not isinstance(value[0], str):
+    if not isinstance(value, tuple) or len(value) != 2:
         return False
     word, numbers = value
     if word == "prices":

@@ -71,7 +71,7 @@ def _prices(net, rows):
     top, bottom = greatest_ratio([row_sum(row, [1] * len(rows)) for row in net[0]])
     # With these numbers each row comes to 1. Taken at least as many times as a row's sum they may be rounded up:
     # what that adds to a sum is not above what the sum falls short.
-    times = max(top // bottom + 1, 1)
+    times = top // bottom + 1
     return _in_least_terms([-(-times * number // common) for number in numbers])
 
 

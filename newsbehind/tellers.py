@@ -4,7 +4,7 @@ A teller is a function of a row of worths: what a rule tells if each of its bran
 """
 
 from newsbehind.ruleforms import inner_rules
-from newsbehind.rules import TELLING
+from newsbehind.rules import TELLING, branches
 
 
 def _still(worth):
@@ -40,3 +40,8 @@ def _teller_from(rule, places, at):
 def teller(rule, places):
     """The teller of a rule, places telling for each of its branches which worth of the row it brings."""
     return _teller_from(rule, places, 0)[0]
+
+
+def state_tellers(net):
+    """For each house the teller of its rule, of rows that are states of the net."""
+    return [teller(rule, branches(rule)) for rule in net[1]]

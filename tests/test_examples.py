@@ -3,8 +3,9 @@
 import unittest
 
 from newsbehind import (
-    beats, ends, exactways, fastbeats, lateness, looseruns, lotpapers, lots, nets, nettexts, pricing, ranges, ratios, reading,
-    resting, restpapers, rules, shares, showing, tablenets, tablerests, tableruns, toggles, tokens, ways,
+    beats, cutting, ends, exactways, fastbeats, knotrounds, lateness, looseruns, lotpapers, lots, mending, nets, nettexts,
+    openparts, orbits, pricing, ranges, ratios, reading, resting, restpapers, rests, rules, shares, showing, stirs, tablenets,
+    tablerests, tableruns, toggles, tokens, traps, ways,
 )
 
 TWO = 'net_of([3, 3], [("from", 3, ("hear", 1)), ("most", (("is", 1), ("hear", 0)))])'
@@ -17,6 +18,10 @@ OTHER = 'net_of([3], [("part", 2, ("hear", 0))])'
 TABLE = "table_net_of([[0, (1, 2)], [-1, (1, 4)]], [1, 0])"
 SWINGING = "table_net_of([[2]], [0])"
 PAPER = "(((0, 1, 2),), (((2,), (0,), (1,)),))"
+CHAIN = 'net_of([3, 3, 3], [("is", 2), ("hear", 0), ("part", 2, ("add", (("hear", 1), ("hear", 2))))])'
+RISING = 'net_of([3, 3], [("most", (("is", 1), ("hear", 1))), ("clip", 0, 2, ("hear", 0))])'
+MEND = 'net_of([2, 2, 2], [("hear", 1), ("hear", 0), ("most", (("hear", 0), ("hear", 2)))])'
+OPEN = 'net_of([3, 3, 3], [("is", 0), ("least", (("hear", 0), ("from", 3, ("hear", 2)))), ("hear", 1)])'
 RUN = "(((0, 0), (3, 1)), (((1,), (2,)), ((2,), (1,))))"
 
 EXAMPLES = (
@@ -63,11 +68,26 @@ EXAMPLES = (
     (TABLE, 'priced_below(net, (1, 2))[0], are_below(net, (1, 2), ("swing", (1, 1))), '
      'are_below(net, (1, 1), ("prices", (2, 3)))', "('swing', True, True)"),
     (TABLE, "share_between(net, 4)[:2], beats_for(net, (2, 3), 2, (10, 1), (1, 1))", "(((45, 64), (27, 32)), 52)"),
+    (CHAIN, "knot_rounds(net), chain_rounds(net), rounds_needed(net)", "((1, 1, 1), 3, 3)"),
+    (RISING, "rests(net, 100), is_rising(net), least_rest(net), greatest_rest(net), climb(net, (3, 0)), climb(net, (1, 0))",
+     "(((1, 1), (2, 2)), True, (1, 1), (2, 2), None, (1, 1))"),
+    (RISING, "orbit(net, (3, 0), 9), rings(net, 100)[0]", "((((3, 0),), ((1, 2), (2, 1))), (((1, 1),), 4))"),
+    (RISING, "is_trap(net, ((2, 2), (3, 3))), trap_around(net, (3, 1)), rest_within(net, ((2, 2), (3, 3))), "
+     "toggle_within(net, ((0, 0), (3, 3)))", "(True, ((1, 1), (3, 2)), (2, 2), ((1, 1), (2, 2)))"),
+    (MEND, "is_stir(net, (1, 1, 1), ((0, 0, 1), (2, 2, 2))), calms(net, (1, 1, 1), (0,)), calms(net, (1, 1, 1), (0, 2)), "
+     "stir_left(net, (1, 1, 1), (0,))", "(True, False, True, ((1, 1, 1), (1, 1, 2)))"),
+    (MEND, "len(fewest_houses(net, (1, 1, 1))), is_fewest_paper(net, (1, 1, 1), ((0, 2), (((0, 0, 1), (2, 2, 1)), "
+     "((1, 1, 1), (1, 1, 2)))))", "(2, True)"),
+    (MEND, 'all_branches(net), cuts_calm(net, (1, 1, 1), ((0, 0), (2, 1))), fewest_cuts(net_of([2], [("hear", 0)]), (1,))',
+     "(((0, 0), (1, 0), (2, 0), (2, 1)), True, ((0, 0),))"),
+    (OPEN, "ends_given(net, (0,), ((1,), (3,))), ends_given(net, (0,), ((2,), (2,)))",
+     "(((1, 0, 0), (3, 3, 3)), ((2, 1, 1), (2, 2, 2)))"),
+    (OPEN, "given_net(net, (0,), ((1,), (3,)))[1][0]", "('bar', 3, 3, 1, ('hear', 0))"),
 )
 
 MODULES = (rules, nets, tokens, nettexts, reading, lateness, beats, showing, ranges, ways, exactways, ends, resting,
            restpapers, toggles, lots, looseruns, lotpapers, ratios, tablenets, pricing, tablerests, tableruns, shares,
-           fastbeats)
+           fastbeats, knotrounds, rests, orbits, traps, stirs, mending, cutting, openparts)
 
 
 class ExamplesTest(unittest.TestCase):

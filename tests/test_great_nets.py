@@ -5,19 +5,27 @@ import time
 import unittest
 
 from newsbehind.beats import shown
+from newsbehind.cutting import fewest_cuts
 from newsbehind.ends import ends_behind, first_ends, last_ends, next_ends, rounds_needed
 from newsbehind.errors import InvalidQuestion, Refused
 from newsbehind.exactways import exact_ways, shown_ways
+from newsbehind.knotrounds import chain_rounds, knot_rounds
 from newsbehind.looseruns import is_loose_run, loose_states
 from newsbehind.lotpapers import is_lot_paper, lot_paper, restless_run
 from newsbehind.lots import first_lots, is_sure, known_rounds, last_lots, lot_rounds, lots_next
-from newsbehind.nets import is_rest, net_of
+from newsbehind.mending import calms, fewest_paper
+from newsbehind.nets import is_rest, knots, net_of
+from newsbehind.openparts import ends_given
+from newsbehind.orbits import orbit, rings
 from newsbehind.ranges import house_range, range_of
 from newsbehind.resting import ends_at, resting_houses, rests_always, settled_from, the_rest
 from newsbehind.restpapers import is_rest_paper, rest_paper
+from newsbehind.rests import climb, rests
 from newsbehind.rules import branches
 from newsbehind.showing import can_show, even_run
+from newsbehind.stirs import stir_left
 from newsbehind.toggles import is_toggle, toggle_ends, toggle_run
+from newsbehind.traps import is_trap, rest_within, toggle_within, trap_around
 from newsbehind.ways import are_one_way, end_heard, ways
 from sampling import drawn_lateness, drawn_net, drawn_run, drawn_state, greatest_net, greatest_rule, one_way
 
@@ -168,6 +176,35 @@ class GreatNetsTest(unittest.TestCase):
             else:
                 with self.assertRaises(InvalidQuestion):
                     restless_run(net, paper, 9, 60)
+
+    def test_knots_traps_and_mending_of_20000_rounds(self):
+        for fat in False, True:
+            net = ring(fat)
+            self.assertEqual((knot_rounds(net), chain_rounds(net)), ((20000,), 20000))
+            self.assertEqual(trap_around(net, (500,) * 20), ((500,) * 20, (1000,) * 20))
+            self.assertEqual(rest_within(net, ((0,) * 20, (1000,) * 20)), (1000,) * 20)
+            self.assertIs(toggle_within(net, ((7,) * 20, (1000,) * 20)), None)
+            self.assertEqual((calms(net, (1000,) * 20, ()), fewest_paper(net, (1000,) * 20)), (True, ((), ())))
+            self.assertIs(stir_left(net, (1000,) * 20, (3,)), None)
+            self.assertEqual(ends_given(net, (19,), ((0,), (998,)))[0][:2], (1, 1))
+        self.assertEqual(climb(ring(False), (0,) * 20), (1000,) * 20)
+        self.assertEqual(len(orbit(ring(False), (0,) * 20, 20001)[0]), 20000)
+        self.refused(20000, orbit, ring(False), (0,) * 20, 20000)
+
+    def test_the_greatest_net_is_mended(self):
+        net = greatest_net()
+        self.refused(1001 ** 20, rests, net, 10 ** 6)
+        self.refused(1001 ** 20, rings, net, 10 ** 6)
+        self.refused(240, fewest_cuts, net, (1000,) * 20)
+        self.assertEqual(len(knot_rounds(net)), len(knots(net)))
+        self.assertIs(is_trap(net, trap_around(net, (3,) * 20)), True)
+
+    def test_as_many_states_as_most_tells(self):
+        net = net_of([999, 499], [("hear", 1), ("hear", 0)])
+        self.assertEqual(len(rests(net, 500000)), 500)
+        self.refused(500000, rests, net, 499999)
+        self.assertEqual(sum(count for _, count in rings(net, 500000)), 500000)
+        self.refused(500000, rings, net, 499999)
 
     def test_a_loose_run_of_the_greatest_net(self):
         rng = random.Random(155)

@@ -100,6 +100,14 @@ class IsLotPaperTest(unittest.TestCase):
         for lots in ((), ((0, 1), (0, 1)), [(0, 1)], (0, 1), None):
             self.told(False, (lots, (((0,), (1,)),)), net)
 
+    def test_lots_of_houses_that_nobody_hears(self):
+        net = net_of([1, 1, 1], [("hear", 0), ("is", 1), ("is", 1)])
+        reasons = ((0,), (1,))
+        self.told(True, (((0, 1), (1,), (1,)), (reasons, ((),), ((),))), net)
+        self.told(False, (((0, 1), (), (1,)), (reasons, (), ((),))), net)
+        self.told(False, (((0, 1), (1,), ()), (reasons, ((),), ())), net)
+        self.told(False, (((0, 1), (1,), (1, 1)), (reasons, ((),), ((), ()))), net)
+
     def test_any_value(self):
         for value in ODD_VALUES:
             self.told(False, value)

@@ -20,7 +20,7 @@ class ReadmeTest(unittest.TestCase):
                     answers[-1] += 1
                 else:
                     exec(row, scope)
-        self.assertEqual(len(answers), 3)
+        self.assertEqual(len(answers), 4)
         self.assertGreater(min(answers), 5)
 
 

@@ -5,8 +5,9 @@ import random
 import unittest
 
 from newsbehind import (
-    beats, ends, exactways, fastbeats, lateness, looseruns, lotpapers, lots, nets, nettexts, pricing, ranges, ratios, reading,
-    resting, restpapers, rules, shares, showing, tablenets, tablerests, tableruns, toggles, tokens, ways,
+    beats, cutting, ends, exactways, fastbeats, knotrounds, lateness, looseruns, lotpapers, lots, mending, nets, nettexts,
+    openparts, orbits, pricing, ranges, ratios, reading, resting, restpapers, rests, rules, shares, showing, stirs, tablenets,
+    tablerests, tableruns, toggles, tokens, traps, ways,
 )
 from newsbehind.errors import InvalidQuestion, Refused
 from newsbehind.nettexts import net_text
@@ -40,9 +41,19 @@ INTERFACE = {
     tableruns: "is_table_run table_states swing_run",
     shares: "priced_below are_below share_between is_share_paper",
     fastbeats: "beats_for",
+    knotrounds: "knot_rounds chain_rounds",
+    rests: "state_count rests is_rising least_rest greatest_rest climb",
+    orbits: "orbit rings",
+    traps: "is_trap trap_around rest_within toggle_within",
+    stirs: "fixed_lot unrest is_stir stir_left",
+    mending: "calms fewest_houses fewest_paper is_fewest_paper",
+    cutting: "all_branches cut_net cuts_calm fewest_cuts",
+    openparts: "ends_given given_net",
 }
 # Here a net, a house and so on are those of chapters 9 and 10.
 TABLES = (tablenets, pricing, tablerests, tableruns, shares, fastbeats)
+# Here they are a net with a rest, or with inputs.
+MENDING = (stirs, mending, cutting, openparts)
 ARGUMENTS = {
     "is_rule": "value", "branches": "rule", "told": "rule heard", "is_net": "value", "is_state": "net value",
     "net_of": "tops rules", "wanted": "net house heard", "heard_in": "net house state", "next_state": "net state",
@@ -65,7 +76,13 @@ ARGUMENTS = {
     "some_rest": "net", "has_one_rest": "net", "share": "net prices", "farthest": "net rest prices states",
     "is_table_run": "net value", "table_states": "net run", "swing_run": "net swing beats", "priced_below": "net by",
     "are_below": "net by value", "share_between": "net halvings", "is_share_paper": "net value",
-    "beats_for": "net prices d far near",
+    "beats_for": "net prices d far near", "knot_rounds": "net", "chain_rounds": "net", "state_count": "net",
+    "rests": "net most", "is_rising": "net", "least_rest": "net", "greatest_rest": "net", "climb": "net state",
+    "orbit": "net state most", "rings": "net most", "is_trap": "net value", "trap_around": "net state",
+    "rest_within": "net trap", "toggle_within": "net trap", "fixed_lot": "net rest lot", "unrest": "ends",
+    "is_stir": "net rest value", "stir_left": "net rest lot", "calms": "net rest lot", "fewest_houses": "net rest",
+    "fewest_paper": "net rest", "is_fewest_paper": "net rest value", "all_branches": "net", "cut_net": "net rest cuts",
+    "cuts_calm": "net rest cuts", "fewest_cuts": "net rest", "ends_given": "net inputs ends", "given_net": "net inputs ends",
 }
 
 
@@ -88,7 +105,7 @@ def arguments(rng):
         "rules": list(net[1]), "text": net_text(net), "value": rng.choice(values), "beats": 3, "beat": 1, "most": 3000,
         "branch": 0 if hearing else None, "lows": lows, "highs": highs, "ends": (lows, highs), "rounds": 2,
         "lots": tuple(tuple(range(low, high + 1)) for low, high in zip(lows, highs)), "a": rng.randint(-9, 9),
-        "paper": paper_of(net), "late": 9,
+        "paper": paper_of(net), "late": 9, "trap": rng.choice(values + [((0,) * 3, net[0])] * 9),
     }
 
 
@@ -98,6 +115,26 @@ def paper_of(net):
         return lotpapers.lot_paper(net)
     except Refused:
         return None
+
+
+def mending_arguments(rng):
+    """For each name of an argument something to pass to the functions that want a rest, or inputs."""
+    found = ()
+    while not found:
+        net = small_net(rng, top=2, heard=3)
+        if rng.random() < 0.8:
+            net = one_way(rng, net)
+        found = rests.rests(net, 1000)
+    lows, highs = drawn_ends(rng, net)
+    inputs = tuple(sorted(rng.sample(range(3), 2)))
+    every = cutting.all_branches(net)
+    rest = rng.choice(found)
+    values = [net, (lows, highs), ((0,) * 3, net[0]), ((), ()), (inputs, ((lows, highs),)), ([0], [(lows, highs)]), None, [1],
+              {"is": [0]}, (inputs, [])]
+    return {
+        "net": net, "rest": rest, "value": rng.choice(values), "lot": inputs, "cuts": every[::2], "inputs": inputs,
+        "ends": (tuple(lows[house] for house in inputs), tuple(highs[house] for house in inputs)),
+    }
 
 
 def table_arguments(rng):
@@ -136,6 +173,11 @@ class ValuesTest(unittest.TestCase):
             for name in names.split():
                 yield module, getattr(module, name)
 
+    def drawn(self, rng):
+        """For each module with arguments of its own what to pass."""
+        tables, mended = table_arguments(rng), mending_arguments(rng)
+        return {module: mended if module in MENDING else tables for module in TABLES + MENDING}
+
     def test_names_and_arguments(self):
         for module, function in self.functions():
             code = function.__code__
@@ -146,10 +188,10 @@ class ValuesTest(unittest.TestCase):
         rng = random.Random(31)
         told_by = {}
         for _ in range(60):
-            passed, for_tables = arguments(rng), table_arguments(rng)
+            passed, drawn = arguments(rng), self.drawn(rng)
             for module, function in self.functions():
                 name = function.__name__
-                given_by = for_tables if module in TABLES else passed
+                given_by = drawn.get(module, passed)
                 if (name == "shown_ways" and passed["branch"] is None) or (name == "restless_run" and not passed["paper"]):
                     continue
                 given = {argument: given_by[argument] for argument in ARGUMENTS[name].split()}
@@ -162,16 +204,16 @@ class ValuesTest(unittest.TestCase):
                     told_by[name] = told_by.get(name, 0) + 1
                     self.assertIs(type(function(*given.values())), type(told[1]))
         self.assertEqual(set(told_by), set(ARGUMENTS))
-        self.assertGreater(min(told_by.values()), 4)
+        self.assertGreater(min(told_by.values()), 4, told_by)
 
     def test_whether_is_answered_by_true_or_false(self):
         rng = random.Random(32)
         for _ in range(20):
-            passed, for_tables = arguments(rng), table_arguments(rng)
+            passed, drawn = arguments(rng), self.drawn(rng)
             for module, function in self.functions():
                 name = function.__name__
-                if name.startswith(("is_", "can_follow", "are_", "rests_", "has_")):
-                    given_by = for_tables if module in TABLES else passed
+                if name.startswith(("is_", "can_follow", "are_", "rests_", "has_", "calms", "cuts_calm")):
+                    given_by = drawn.get(module, passed)
                     kind, told = asked(function, {argument: given_by[argument] for argument in ARGUMENTS[name].split()})
                     self.assertTrue(kind != "told" or repr(told) in ("True", "False"), name)
 
