@@ -7,7 +7,7 @@ from newsbehind.nets import next_state
 from newsbehind.ranges import house_range
 from newsbehind.rules import branches
 from newsbehind.tellers import state_tellers
-from newsbehind.ways import ways
+from newsbehind.ways import are_one_way, ways
 
 
 def state_count(net):
@@ -25,18 +25,26 @@ def check_states(net, most):
         raise Refused(count)
 
 
+def _worths_of_rests(net):
+    """For each house the worths among which are those of all rests."""
+    if are_one_way(net):
+        lows, highs = last_ends(net)
+        pairs = list(zip(lows, highs))
+    else:
+        pairs = [house_range(net, house) for house in range(len(net[0]))]
+    return [list(range(low, high + 1)) for low, high in pairs]
+
+
 class Search:
     """Finds all rests: worths are tried house by house, and given up as soon as some house is known to want another."""
 
     def __init__(self, net):
         self.tops = net[0]
         self.tellers = state_tellers(net)
-        self.worths = []
+        self.worths = _worths_of_rests(net)
         # For each house those whose wants are known once it has a worth, being the last one that they hear or are.
         self.decided = [[] for _ in net[0]]
         for house, rule in enumerate(net[1]):
-            low, high = house_range(net, house)
-            self.worths.append(list(range(low, high + 1)))
             self.decided[max(branches(rule) + (house,))].append(house)
         self.found = []
 

@@ -1,7 +1,7 @@
 """Rests of table nets, and how far from them states are."""
 
 from newsbehind.eliminations import solved, taken_from
-from newsbehind.ratios import fraction, greatest_ratio, over_common, ratio_product, ratio_sum
+from newsbehind.ratios import fraction, greatest_ratio, over_common
 from newsbehind.swingrows import row_sum
 
 
@@ -61,13 +61,13 @@ def share(net, prices):
 
 
 def _distance(worth, other, price):
-    """How far a worth is from another one, over a price."""
-    a, d = ratio_sum(worth, (-other[0], other[1]))
-    return ratio_product((abs(a), d), (1, price))
+    """How far a worth is from another one, over a price: two integers, not in lowest terms."""
+    return abs(worth[0] * other[1] - other[0] * worth[1]), worth[1] * other[1] * price
 
 
 def farthest(net, rest, prices, states):
     """The greatest difference of an entry of states from that of the rest, over its price."""
-    return greatest_ratio([
+    a, d = greatest_ratio([
         _distance(worth, other, price) for state in states for worth, other, price in zip(state, rest, prices)
     ])
+    return fraction(a, d)

@@ -83,6 +83,11 @@ class RestsTest(unittest.TestCase):
                 run = drawn_run(rng, net, 3, 8)
                 self.assertEqual(set(shown(net, 3, ((state,) * 3, run[1]))), {state})
 
+    def test_far_more_states_than_need_be_tried(self):
+        net = net_of([1000] * 20, [("part", 2, ("hear", (house + 1) % 20)) for house in range(20)])
+        self.assertEqual(rests(net, 1001 ** 20), ((0,) * 20,))
+        self.refused(1001 ** 20, net, 1001 ** 20 - 1)
+
     def test_many_states(self):
         net = net_of([1] * 16, [("hear", (house + 1) % 16) for house in range(16)])
         self.assertEqual(rests(net, 2 ** 16), ((0,) * 16, (1,) * 16))
