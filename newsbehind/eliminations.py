@@ -12,10 +12,10 @@ def taken_from(row, ahead, column, before):
 
 
 def solved(rows, columns, rights):
-    """A pair of a list of numbers and one number: those, divided by this one, solve the rows.
+    """A pair (numbers, common): numbers over common solve the equations whose left sides stand in the rows.
 
-    Each row has its pivot in the column told for it, and nothing in the columns ahead of that; besides the columns
-    told nothing counts but what stands to the right of the sign of equality.
+    There is an unknown for each of these columns, in which the rows, one by one, have their pivots, with 0 in the
+    columns ahead; rights are the right sides.
     """
     common = rows[-1][columns[-1]] if rows else 1
     numbers = [0] * len(rows)
