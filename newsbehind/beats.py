@@ -6,27 +6,31 @@ from newsbehind.nets import wanted
 from newsbehind.rules import branches
 
 
-def _houses_heard(net):
+def houses_heard(net):
+    """For each house the houses that its branches hear."""
     return [branches(rule) for rule in net[1]]
+
+
+def wanted_late(net, house, others, states, row):
+    """What a house wants behind these states, the newest one last, if its branches hear the others so late."""
+    return wanted(net, house, tuple([states[-late][other] for other, late in zip(others, row)]))
 
 
 def _shown_behind(net, heard_houses, states, lateness):
     """The state that is shown behind these, the newest one last; heard_houses are the branches of each house."""
-    state = []
-    for house, others in enumerate(heard_houses):
-        heard = tuple([states[-late][other] for other, late in zip(others, lateness[house])])
-        state.append(wanted(net, house, heard))
-    return tuple(state)
+    return tuple([
+        wanted_late(net, house, others, states, lateness[house]) for house, others in enumerate(heard_houses)
+    ])
 
 
 def shows_next(net, past, lateness):
     """The state that is shown behind a past, if news is so late."""
-    return _shown_behind(net, _houses_heard(net), past, lateness)
+    return _shown_behind(net, houses_heard(net), past, lateness)
 
 
 def shown_at_beats(net, past, latenesses):
     """The states that are shown at the beats with these latenesses, behind this past."""
-    heard_houses = _houses_heard(net)
+    heard_houses = houses_heard(net)
     states = list(past)
     for lateness in latenesses:
         states.append(_shown_behind(net, heard_houses, states, lateness))

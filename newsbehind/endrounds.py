@@ -70,16 +70,19 @@ class EndWants:
         """The ends to which these lead if those of the held houses stay, the next ends of these lying within them."""
         return self.led_on(list(ends[0] + ends[1]), held, list(range(2 * self.many)))
 
-    def settled_at(self, ends, held, state):
-        """The ends to which ends that nothing leads on lead if the held houses show what they show in a state."""
+    def settled_at(self, ends, kept):
+        """The ends to which ends that nothing leads on lead if some houses keep ends of their own, within these.
+
+        kept tells for each of these houses the pair of its low and its high.
+        """
         row = list(ends[0] + ends[1])
         turned = []
-        for house in held:
-            for place in (house, house + self.many):
-                if row[place] != state[house]:
-                    row[place] = state[house]
+        for house, pair in kept.items():
+            for place, worth in zip((house, house + self.many), pair):
+                if row[place] != worth:
+                    row[place] = worth
                     turned.append(place)
-        return self.led_on(row, held, self.hearing(turned))
+        return self.led_on(row, kept, self.hearing(turned))
 
 
 def ends_led_to(net, words, ends):

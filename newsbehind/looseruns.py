@@ -1,6 +1,6 @@
 """Loose runs: runs in which news may overtake news."""
 
-from newsbehind.basics import MOST_LOOSE_BEATS, MOST_OLD
+from newsbehind.basics import LEAST_OLD, MOST_LOOSE_BEATS, MOST_OLD
 from newsbehind.beats import shown_at_beats
 from newsbehind.lateness import branch_counts, fits_counts, is_past
 
@@ -10,7 +10,7 @@ def is_loose_run(net, value):
     if not isinstance(value, tuple) or len(value) != 2:
         return False
     past, latenesses = value
-    if not isinstance(past, tuple) or not 2 <= len(past) <= MOST_OLD or not is_past(net, len(past), past):
+    if not isinstance(past, tuple) or not LEAST_OLD <= len(past) <= MOST_OLD or not is_past(net, len(past), past):
         return False
     if not isinstance(latenesses, tuple) or len(latenesses) > MOST_LOOSE_BEATS:
         return False

@@ -19,19 +19,23 @@ class Stirs:
     """The stirs of a net, asked for one by one, each of as few houses as may be."""
 
     def __init__(self, net, rest):
-        self.rest = rest
+        self.at_rest = [(worth, worth) for worth in rest]
         widest = widest_ends(net)
         self.reckoned = EndWants(net, one_way_words(net), widest)
         self.last = self.reckoned.settled(widest, ())
         self.told = []
 
+    def held(self, lot, ends):
+        """The last ends with the houses of a lot held at the rest, begun with ends within which they lie."""
+        return self.reckoned.settled_at(ends, {house: self.at_rest[house] for house in lot})
+
     def lot_without(self, chosen):
         """The number of the unrest of a stir that has nothing of what is chosen, 0 if there is none."""
         lot = things_in(chosen)
-        ends = self.reckoned.settled_at(self.last, lot, self.rest)
+        ends = self.held(lot, self.last)
         # Whoever can be held, too, without the net coming to rest, is not needed for a stir.
         for house in unrest(ends):
-            narrower = self.reckoned.settled_at(ends, lot + [house], self.rest)
+            narrower = self.held(lot + [house], ends)
             if narrower[0] != narrower[1]:
                 lot.append(house)
                 ends = narrower

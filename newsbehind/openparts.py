@@ -7,23 +7,23 @@ from newsbehind.nets import fixed, with_rule
 from newsbehind.ways import are_one_way, one_way_words
 
 
-def _without_inputs(net, inputs):
-    """The net in which the inputs hear nobody; refused if another house has a branch that goes both ways."""
+def open_wants(net, inputs):
+    """What all ends want, the inputs hearing nobody; refused if another house has a branch that goes both ways."""
     for house in inputs:
         net = fixed(net, house, 0)
     if not are_one_way(net):
         raise InvalidQuestion(1)
-    return net
+    return EndWants(net, one_way_words(net), widest_ends(net))
 
 
 def ends_given(net, inputs, ends):
     """The ends to which rounds from below and above lead if the inputs keep these."""
-    own = _without_inputs(net, inputs)
+    reckoned = open_wants(net, inputs)
     lows, highs = widest_ends(net)
     for house, low, high in zip(inputs, ends[0], ends[1]):
         lows = lows[:house] + (low,) + lows[house + 1:]
         highs = highs[:house] + (high,) + highs[house + 1:]
-    return EndWants(own, one_way_words(own), (lows, highs)).settled((lows, highs), inputs)
+    return reckoned.settled((lows, highs), inputs)
 
 
 def given_net(net, inputs, ends):

@@ -2,7 +2,7 @@
 
 from math import lcm
 
-from newsbehind.basics import MOST_LOOSE_BEATS, MOST_OLD
+from newsbehind.basics import LEAST_OLD, MOST_LOOSE_BEATS, MOST_OLD
 from newsbehind.lateness import first_wrong
 from newsbehind.ratios import fraction, is_fraction, over_common, ratio_sum
 from newsbehind.tablenets import table_branches
@@ -19,7 +19,7 @@ def is_table_run(net, value):
         return False
     past, latenesses = value
     many = len(net[0])
-    if not isinstance(past, tuple) or not 2 <= len(past) <= MOST_OLD:
+    if not isinstance(past, tuple) or not LEAST_OLD <= len(past) <= MOST_OLD:
         return False
     if not all(_is_table_state(state, many) for state in past):
         return False

@@ -23,9 +23,8 @@ def _around(ends, others):
     return lows, highs
 
 
-def trap_around(net, state):
-    """The least trap in which a state lies."""
-    ends = (state, state)
+def closed_around(net, ends):
+    """The least trap within which ends lie."""
     reckoned = EndWants(net, one_way_words(net), ends)
     wider = _around(ends, reckoned.behind())
     while wider != ends:
@@ -33,6 +32,11 @@ def trap_around(net, state):
         reckoned.hear(ends)
         wider = _around(ends, reckoned.behind())
     return ends
+
+
+def trap_around(net, state):
+    """The least trap in which a state lies."""
+    return closed_around(net, (state, state))
 
 
 def _last_within(net, trap):

@@ -170,3 +170,42 @@ def greatest_rule(houses=20):
 
 def greatest_net():
     return net_of([1000] * 20, [greatest_rule()] * 20)
+
+
+def drawn_stopped_run(rng, net, d, e, beats, often=0.5):
+    """A stopped run for d and e: each house moves now and then, and whenever it must."""
+    moved = [(-1, None)] * len(net[0])
+    told = []
+    for beat in range(beats):
+        movers = [house for house, (last, _) in enumerate(moved) if rng.random() < often or beat - last == e]
+        lateness = list(drawn_lateness(rng, net, d))
+        for house in movers:
+            last, row = moved[house]
+            if row is not None:
+                lateness[house] = tuple(rng.randint(1, min(d, late + beat - last)) for late in row)
+            moved[house] = (beat, lateness[house])
+        told.append((tuple(movers), tuple(lateness)))
+    return (drawn_past(rng, net, d), tuple(told))
+
+
+def drawn_lossy(rng, net, d, loss, beats, often=0.4):
+    """Lossy latenesses for d in which no more news than told is lost one behind another."""
+    rows = []
+    last = [[d] * len(branches(rule)) for rule in net[1]]
+    lost = [[loss] * len(row) for row in last]
+    for _ in range(beats):
+        entry = []
+        for house, row in enumerate(last):
+            numbers = []
+            for at in range(len(row)):
+                if lost[house][at] < loss and rng.random() < often:
+                    lost[house][at] += 1
+                    numbers.append(None)
+                else:
+                    most = d if not rows else min(d, row[at] + lost[house][at] + 1)
+                    row[at] = rng.randint(1, most)
+                    lost[house][at] = 0
+                    numbers.append(row[at])
+            entry.append(tuple(numbers))
+        rows.append(tuple(entry))
+    return tuple(rows)

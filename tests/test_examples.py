@@ -3,9 +3,9 @@
 import unittest
 
 from newsbehind import (
-    beats, cutting, ends, exactways, fastbeats, knotrounds, lateness, looseruns, lotpapers, lots, mending, nets, nettexts,
-    openparts, orbits, pricing, ranges, ratios, reading, resting, restpapers, rests, rules, shares, showing, stirs, tablenets,
-    tablerests, tableruns, toggles, tokens, traps, ways,
+    beats, cutting, ends, endtables, exactways, fastbeats, knotrounds, lateness, lives, living, livingchanges, looseruns, losses,
+    lotpapers, lots, mending, nets, nettexts, openparts, orbits, plainruns, pricing, ranges, ratios, reading, resting, restpapers,
+    rests, rules, settings, shares, showing, stirs, stops, tablenets, tablerests, tableruns, together, toggles, tokens, traps, ways,
 )
 
 TWO = 'net_of([3, 3], [("from", 3, ("hear", 1)), ("most", (("is", 1), ("hear", 0)))])'
@@ -22,7 +22,14 @@ CHAIN = 'net_of([3, 3, 3], [("is", 2), ("hear", 0), ("part", 2, ("add", (("hear"
 RISING = 'net_of([3, 3], [("most", (("is", 1), ("hear", 1))), ("clip", 0, 2, ("hear", 0))])'
 MEND = 'net_of([2, 2, 2], [("hear", 1), ("hear", 0), ("most", (("hear", 0), ("hear", 2)))])'
 OPEN = 'net_of([3, 3, 3], [("is", 0), ("least", (("hear", 0), ("from", 3, ("hear", 2)))), ("hear", 1)])'
+HALF = 'net_of([3, 3], [("is", 0), ("part", 2, ("hear", 0))])'
 RUN = "(((0, 0), (3, 1)), (((1,), (2,)), ((2,), (1,))))"
+STOPPED = "(((3, 0), (2, 2)), (((0,), ((1,), (1,))), ((1,), ((1,), (2,))), ((0, 1), ((2,), (1,)))))"
+LIVING = 'net_of([8, 8], [("part", 2, ("hear", 1)), ("hear", 0)])'
+LIFE = 'changed(begun(net, 2), ("wait", 5))'
+LATER = f'changed({LIFE}, ("rule", 0, ("most", (("is", 3), ("hear", 1)))))'
+SET = ('net_of([1, 1, 3, 3], [("is", 0), ("is", 0), ("bar", 1, 0, 3, ("least", (("hear", 0), ("hear", 1)))), '
+       '("from", 3, ("hear", 3))])')
 
 EXAMPLES = (
     (TWO, 'branches(net[1][1]), told(("middle", ("hear", 0), ("is", 2), ("hear", 0)), (5, 1)), wanted(net, 0, (1,))',
@@ -82,12 +89,24 @@ EXAMPLES = (
      "(((0, 0), (1, 0), (2, 0), (2, 1)), True, ((0, 0),))"),
     (OPEN, "ends_given(net, (0,), ((1,), (3,))), ends_given(net, (0,), ((2,), (2,)))",
      "(((1, 0, 0), (3, 3, 3)), ((2, 1, 1), (2, 2, 2)))"),
-    (OPEN, "given_net(net, (0,), ((1,), (3,)))[1][0]", "('bar', 3, 3, 1, ('hear', 0))"),
+    (OPEN, "given_net(net, (0,), ((1,), (3,)))[1][0], len(ends_table(net, (0,), (2,))), ends_table(net, (0,), (2,))[0]",
+     "(('bar', 3, 3, 1, ('hear', 0)), 10, (((0,), (0,)), ((0,), (0,))))"),
+    (HALF, "joined_ends(ends_table(net, (0,), (1,)), ends_table(net, (0,), (1,)), (0,), (0,))", "(((0,), (0,)), ((0,), (0,)))"),
+    (CALM, f"is_stopped_run(net, 2, 2, {STOPPED}), stopped_shown(net, 2, {STOPPED}), plain_run(net, 2, 2, {STOPPED})",
+     "(True, ((1, 2), (1, 2), (1, 1)), (((3, 0), (2, 2), (1, 2)), (((2,), (2,)), ((2,), (1,)))))"),
+    (CALM, "filled((((1,), (2,)), ((None,), (1,)), ((None,), (None,)), ((1,), (2,)))), settled_with(net, 2, 2, 1)",
+     "((((1,), (2,)), ((2,), (1,)), ((3,), (2,)), ((1,), (2,))), 9)"),
+    (LIVING, f'known({LIFE}), rests_in({LIFE}), rests_in(begun(net, 2)), known(changed({LIFE}, ("seen", 0, 0, 1)))',
+     "(((0, 0), (4, 4)), 11, 16, ((0, 0), (2, 4)))"),
+    (LIVING, f'{LATER}[1:], rests_in({LATER}), rests_in(changed({LATER}, ("rule", 1, ("is", 4))))',
+     "((2, ((0, 0), (4, 4)), 0), None, 4)"),
+    (SET, "settings(net, (0, 1)), resting_settings(net, (0, 1)), first_toggling(net, ())", "(((0, 0), (0, 1), (1, 0), (1, 1)), (), ())"),
 )
 
 MODULES = (rules, nets, tokens, nettexts, reading, lateness, beats, showing, ranges, ways, exactways, ends, resting,
            restpapers, toggles, lots, looseruns, lotpapers, ratios, tablenets, pricing, tablerests, tableruns, shares,
-           fastbeats, knotrounds, rests, orbits, traps, stirs, mending, cutting, openparts)
+           fastbeats, knotrounds, rests, orbits, traps, stirs, mending, cutting, openparts, endtables, together, stops,
+           plainruns, losses, living, livingchanges, lives, settings)
 
 
 class ExamplesTest(unittest.TestCase):

@@ -5,13 +5,15 @@ import random
 import unittest
 
 from newsbehind import (
-    beats, cutting, ends, exactways, fastbeats, knotrounds, lateness, looseruns, lotpapers, lots, mending, nets, nettexts,
-    openparts, orbits, pricing, ranges, ratios, reading, resting, restpapers, rests, rules, shares, showing, stirs, tablenets,
-    tablerests, tableruns, toggles, tokens, traps, ways,
+    beats, cutting, ends, endtables, exactways, fastbeats, knotrounds, lateness, lives, living, livingchanges, looseruns, losses,
+    lotpapers, lots, mending, nets, nettexts, openparts, orbits, plainruns, pricing, ranges, ratios, reading, resting, restpapers,
+    rests, rules, settings, shares, showing, stirs, stops, tablenets, tablerests, tableruns, together, toggles, tokens, traps, ways,
 )
 from newsbehind.errors import InvalidQuestion, Refused
 from newsbehind.nettexts import net_text
-from sampling import drawn_ends, drawn_lateness, drawn_net, drawn_run, one_way, small_net
+from sampling import (
+    drawn_ends, drawn_lateness, drawn_lossy, drawn_net, drawn_run, drawn_stopped_run, one_way, small_net,
+)
 from tables import drawn_table_net, drawn_table_run
 
 INTERFACE = {
@@ -49,11 +51,22 @@ INTERFACE = {
     mending: "calms fewest_houses fewest_paper is_fewest_paper",
     cutting: "all_branches cut_net cuts_calm fewest_cuts",
     openparts: "ends_given given_net",
+    endtables: "ends_table is_within unlike_row",
+    together: "put_together joined_ends",
+    stops: "is_stopped_run stopped_shown",
+    plainruns: "plain_run",
+    losses: "are_lossy longest_loss filled settled_with",
+    living: "closed is_life begun known rests_in",
+    livingchanges: "is_change changed",
+    lives: "lived diary",
+    settings: "settings set_net resting_settings first_toggling",
 }
 # Here a net, a house and so on are those of chapters 9 and 10.
 TABLES = (tablenets, pricing, tablerests, tableruns, shares, fastbeats)
 # Here they are a net with a rest, or with inputs.
 MENDING = (stirs, mending, cutting, openparts)
+# Here they are a net with inputs and outputs, of two parts, with stops and losses, or with a life.
+LIVING = (endtables, together, stops, plainruns, losses, living, livingchanges, lives, settings)
 ARGUMENTS = {
     "is_rule": "value", "branches": "rule", "told": "rule heard", "is_net": "value", "is_state": "net value",
     "net_of": "tops rules", "wanted": "net house heard", "heard_in": "net house state", "next_state": "net state",
@@ -83,6 +96,13 @@ ARGUMENTS = {
     "is_stir": "net rest value", "stir_left": "net rest lot", "calms": "net rest lot", "fewest_houses": "net rest",
     "fewest_paper": "net rest", "is_fewest_paper": "net rest value", "all_branches": "net", "cut_net": "net rest cuts",
     "cuts_calm": "net rest cuts", "fewest_cuts": "net rest", "ends_given": "net inputs ends", "given_net": "net inputs ends",
+    "ends_table": "net inputs outputs", "is_within": "one other", "unlike_row": "table other",
+    "put_together": "first second ties", "joined_ends": "first second heard brought", "is_stopped_run": "net d e value",
+    "stopped_shown": "net d run", "plain_run": "net d e run", "are_lossy": "net d value", "longest_loss": "rows", "filled": "rows",
+    "settled_with": "net d e loss", "closed": "net ends", "is_life": "value", "begun": "net d", "known": "life",
+    "rests_in": "life", "is_change": "life value", "changed": "life change", "lived": "life changes",
+    "diary": "life changes", "settings": "net inputs", "set_net": "net inputs setting", "resting_settings": "net inputs",
+    "first_toggling": "net inputs",
 }
 
 
@@ -137,6 +157,27 @@ def mending_arguments(rng):
     }
 
 
+def living_arguments(rng):
+    """For each name of an argument something to pass to the functions of parts, stops, losses, lives and settings."""
+    net, second = [one_way(rng, small_net(rng, houses=houses, top=2, heard=3)) for houses in (3, 2)]
+    inputs = tuple(sorted(rng.sample(range(3), 2)))
+    table = endtables.ends_table(net, (0,), (1, 2))
+    ends = drawn_ends(rng, net)
+    d, e, loss = 2, rng.choice((1, 3)), 2
+    rows = drawn_lossy(rng, net, d, loss, 5)
+    run = drawn_stopped_run(rng, net, d, e, 6)
+    life = (net, d, living.closed(net, ends), rng.randrange(9))
+    changes = [("wait", 3), ("seen", 0, 0, 9), ("house", 2, ("hear", 3)), ("rule", 3, ("is", 1))]
+    values = [net, run, list(run), rows, list(rows), life, list(life), ("rule", 0, ["is", 1]), ["wait", 1], [changes], {"is": [0]}]
+    return {
+        "net": net, "inputs": inputs, "outputs": (0, 2), "one": ends, "is_within.other": living.closed(net, ends), "table": table,
+        "unlike_row.other": endtables.ends_table(net, (0,), (0, 1)), "first": net, "second": second, "ties": ((0, 4), (3, 1)),
+        "joined_ends.first": table, "joined_ends.second": endtables.ends_table(second, (0, 1), (1,)), "heard": (0,), "brought": (1, 0),
+        "d": d, "e": e, "loss": loss, "run": run, "rows": rows, "ends": ends, "life": life, "value": rng.choice(values + changes),
+        "change": rng.choice(changes[:3]), "changes": changes[:rng.choice((0, 3, 4))], "setting": (0, 0),
+    }
+
+
 def table_arguments(rng):
     """For each name of an argument something to pass to the functions of tables."""
     net = drawn_table_net(rng, houses=2, most=2)
@@ -175,8 +216,15 @@ class ValuesTest(unittest.TestCase):
 
     def drawn(self, rng):
         """For each module with arguments of its own what to pass."""
-        tables, mended = table_arguments(rng), mending_arguments(rng)
-        return {module: mended if module in MENDING else tables for module in TABLES + MENDING}
+        drawn = {}
+        for modules, draw in ((TABLES, table_arguments), (MENDING, mending_arguments), (LIVING, living_arguments)):
+            drawn.update(dict.fromkeys(modules, draw(rng)))
+        return drawn
+
+    def given(self, name, given_by):
+        """What is passed to a function; an argument may have a value for this one alone."""
+        return {argument: given_by[f"{name}.{argument}" if f"{name}.{argument}" in given_by else argument]
+                for argument in ARGUMENTS[name].split()}
 
     def test_names_and_arguments(self):
         for module, function in self.functions():
@@ -194,7 +242,7 @@ class ValuesTest(unittest.TestCase):
                 given_by = drawn.get(module, passed)
                 if (name == "shown_ways" and passed["branch"] is None) or (name == "restless_run" and not passed["paper"]):
                     continue
-                given = {argument: given_by[argument] for argument in ARGUMENTS[name].split()}
+                given = self.given(name, given_by)
                 before = copy.deepcopy(given)
                 told = asked(function, given)
                 self.assertEqual(given, before)
@@ -212,9 +260,8 @@ class ValuesTest(unittest.TestCase):
             passed, drawn = arguments(rng), self.drawn(rng)
             for module, function in self.functions():
                 name = function.__name__
-                if name.startswith(("is_", "can_follow", "are_", "rests_", "has_", "calms", "cuts_calm")):
-                    given_by = drawn.get(module, passed)
-                    kind, told = asked(function, {argument: given_by[argument] for argument in ARGUMENTS[name].split()})
+                if name.startswith(("is_", "can_follow", "are_", "rests_always", "has_", "calms", "cuts_calm")):
+                    kind, told = asked(function, self.given(name, drawn.get(module, passed)))
                     self.assertTrue(kind != "told" or repr(told) in ("True", "False"), name)
 
 
