@@ -3,23 +3,11 @@
 from newsbehind.basics import MOST_NUMBER
 from newsbehind.drafts import NetDraft
 from newsbehind.errors import InvalidText
-from newsbehind.tokens import tokens_of
-
-DIGITS = "0123456789"
-
-
-def _number_of(token):
-    """The number up to the greatest one that a token stands for, -1 if there is none."""
-    # Python reads digits of other scripts, too; here they stand for nothing.
-    if len(token) > len(str(MOST_NUMBER)) or not all(sign in DIGITS for sign in token):
-        return -1
-    number = int(token)
-    return number if str(number) == token else -1
-
+from newsbehind.tokens import number_of, tokens_of
 
 def _may_take(draft, token):
     words, low, high = draft.follow()
-    return token in words or low <= _number_of(token) <= high
+    return token in words or low <= number_of(token, len(str(MOST_NUMBER))) <= high
 
 
 def _drafted(tokens):

@@ -12,8 +12,8 @@ def rest_paper(net):
     return tuple(rounds) if lows == highs else None
 
 
-def _holds(net, words, paper):
-    """Whether ends lie within one another as those of a paper must."""
+def lead_on(net, words, paper):
+    """Whether the first ends lie within the first one of these, and the next ends of each within the one behind it."""
     if not lie_within(widest_ends(net), paper[0]):
         return False
     reckoned = EndWants(net, words, paper[0])
@@ -21,13 +21,18 @@ def _holds(net, words, paper):
         if not lie_within(reckoned.behind(), ends):
             return False
         reckoned.hear(ends)
-    lows, highs = paper[-1]
-    return lows == highs
+    return True
+
+
+def are_papers(net, value):
+    """Whether any value is a tuple of one or more ends."""
+    return isinstance(value, tuple) and len(value) > 0 and all(are_ends(net, entry) for entry in value)
 
 
 def is_rest_paper(net, value):
     """Whether any value is a paper that shows that a net rests always."""
     words = one_way_words(net)
-    if not isinstance(value, tuple) or len(value) == 0:
+    if not are_papers(net, value) or not lead_on(net, words, value):
         return False
-    return all(are_ends(net, entry) for entry in value) and _holds(net, words, value)
+    lows, highs = value[-1]
+    return lows == highs

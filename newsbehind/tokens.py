@@ -2,6 +2,7 @@
 
 BLANKS = " \n"
 WORD_SIGNS = "abcdefghijklmnopqrstuvwxyzABCDEFGHIJKLMNOPQRSTUVWXYZ_0123456789"
+DIGITS = "0123456789"
 
 
 def _behind_remark(text, at):
@@ -41,3 +42,12 @@ def tokens_of(text):
 def token_places(text):
     """For each token of a text the index of its first sign."""
     return tuple([start for start, _ in _spans(text)])
+
+
+def number_of(word, most_digits):
+    """The number that a word of at most so many digits stands for, without leading zeros; -1 if there is none."""
+    # Python reads digits of other scripts, too; here they stand for nothing.
+    if not 1 <= len(word) <= most_digits or not all(sign in DIGITS for sign in word):
+        return -1
+    number = int(word)
+    return number if str(number) == word else -1

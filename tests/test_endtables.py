@@ -78,7 +78,8 @@ class EndsTableTest(unittest.TestCase):
         net = net_of([26, 27, 3, 2, 10, 8, 1, 1], [("is", 0)] * 8)
         for inputs, many in (((0,), 378), ((3, 4), 396), ((2, 6, 7), 90), ((2,), 10)):
             self.assertEqual(len(ends_table(net, inputs, inputs)), many)
-        for inputs, many in (((1,), 406), ((5, 6, 7), 405), ((0, 1), 378 * 406), (tuple(range(8)), 378 * 406 * 10 * 396 * 405)):
+        for inputs, many in (((1,), 406), ((5, 6, 7), 405), ((0, 1), 378 * 406),
+                             (tuple(range(8)), 378 * 406 * 10 * 396 * 405)):
             self.refused(Refused, many, net, inputs)
         self.refused(Refused, 501501, net_of([1000], [("is", 0)]), (0,), ())
         self.refused(Refused, 501501 ** 20, net_of([1000] * 20, [("is", 0)] * 20), tuple(range(20)))
@@ -91,7 +92,8 @@ class EndsTableTest(unittest.TestCase):
         self.refused(InvalidQuestion, 1, net_of([40, 40, 2], [("is", 0), BOTH, ("hear", 1)]), (0,))
         self.refused(Refused, 861, net, (1,))
         told = ends_table(net_of([2, 4, 2], [("is", 0), BOTH, ("hear", 1)]), (1,), (1, 2))
-        self.assertEqual(told, tuple((((low,), (high,)), ((low, min(low, 2)), (high, min(high, 2)))) for low, high in pairs_to(4)))
+        self.assertEqual(told, tuple((((low,), (high,)), ((low, min(low, 2)), (high, min(high, 2)))) for low,
+                                     high in pairs_to(4)))
 
     def test_rows_within_one_another(self):
         rng = random.Random(543)
@@ -107,7 +109,8 @@ class IsWithinTest(unittest.TestCase):
     def test_by_hand(self):
         for one, other, is_one in (
             (((), ()), ((), ()), True), (((1,), (2,)), ((1,), (2,)), True), (((1,), (2,)), ((0,), (3,)), True),
-            (((0,), (2,)), ((1,), (2,)), False), (((1,), (3,)), ((1,), (2,)), False), (((0, 1), (1, 1)), ((0, 0), (1, 1)), True),
+            (((0,), (2,)), ((1,), (2,)), False), (((1,), (3,)), ((1,), (2,)), False),
+            (((0, 1), (1, 1)), ((0, 0), (1, 1)), True),
             (((0, 0), (1, 1)), ((0, 1), (1, 1)), False), (((0, 1), (1, 2)), ((0, 1), (1, 1)), False),
         ):
             self.assertIs(is_within(one, other), is_one)

@@ -3,9 +3,10 @@
 import unittest
 
 from newsbehind import (
-    beats, cutting, ends, endtables, exactways, fastbeats, knotrounds, lateness, lives, living, livingchanges, looseruns, losses,
-    lotpapers, lots, mending, nets, nettexts, openparts, orbits, plainruns, pricing, ranges, ratios, reading, resting, restpapers,
-    rests, rules, settings, shares, showing, stirs, stops, tablenets, tablerests, tableruns, together, toggles, tokens, traps, ways,
+    beats, circuitnets, cutting, desk, distancenets, ends, endtables, exactways, fastbeats, forcing, houses, knotrounds, lateness,
+    lives, living, livingchanges, looseruns, losses, lotpapers, lots, mending, nets, nettexts, openparts, orbits, plainruns,
+    pricenets, pricing, ranges, ratios, reading, resting, restpapers, rests, rules, settings, shares, sheets, showing, stirs, stops,
+    sureworths, tablenets, tablerests, tableruns, together, toggles, tokens, traps, votenets, ways,
 )
 
 TWO = 'net_of([3, 3], [("from", 3, ("hear", 1)), ("most", (("is", 1), ("hear", 0)))])'
@@ -30,6 +31,9 @@ LIFE = 'changed(begun(net, 2), ("wait", 5))'
 LATER = f'changed({LIFE}, ("rule", 0, ("most", (("is", 3), ("hear", 1)))))'
 SET = ('net_of([1, 1, 3, 3], [("is", 0), ("is", 0), ("bar", 1, 0, 3, ("least", (("hear", 0), ("hear", 1)))), '
        '("from", 3, ("hear", 3))])')
+STILL = f"fixed({SET}, 3, 2)"
+# The house of chapter 18 stands where a net stands in other rows.
+HOUSE = 'House("house 0 top 8 : part 2 ( of 1 ) ; house 1 top 8 : of 0 ;", 2)'
 
 EXAMPLES = (
     (TWO, 'branches(net[1][1]), told(("middle", ("hear", 0), ("is", 2), ("hear", 0)), (5, 1)), wanted(net, 0, (1,))',
@@ -100,13 +104,29 @@ EXAMPLES = (
      "(((0, 0), (4, 4)), 11, 16, ((0, 0), (2, 4)))"),
     (LIVING, f'{LATER}[1:], rests_in({LATER}), rests_in(changed({LATER}, ("rule", 1, ("is", 4))))',
      "((2, ((0, 0), (4, 4)), 0), None, 4)"),
-    (SET, "settings(net, (0, 1)), resting_settings(net, (0, 1)), first_toggling(net, ())", "(((0, 0), (0, 1), (1, 0), (1, 1)), (), ())"),
+    (SET, "settings(net, (0, 1)), resting_settings(net, (0, 1)), first_toggling(net, ()), sure_ends(net, (0,))",
+     "(((0, 0), (0, 1), (1, 0), (1, 1)), (), (), ((0, 0, 0, 0), (1, 0, 0, 3)))"),
+    (STILL, "forcing(net, (0,), (1,)), answer(net, (0,), (1,), (1,)), sure_houses(net, (0, 1)), sure_houses(net, (0,)), "
+     "all_sure(net, (0,))", "((0,), None, (3,), (1, 2, 3), True)"),
+    ("distance_net(3, ((0, 1, 2), (1, 0, 1), (1, 2, 5)), 2, 9)",
+     "net[1][1], distances(3, ((0, 1, 2), (1, 0, 1), (1, 2, 5)), 2, 9), slow_rounds(2, ((0, 1, 1),), 1, 9)",
+     "(('least', (('add', (('is', 1), ('hear', 0))), ('add', (('is', 5), ('hear', 2))))), (7, 5, 0), 2)"),
+    ("None", "won(4, ((0, 1), (1, 2), (2, 3)), (1, 2, 1, 1), (0, 3)), standing_lots(3, ((0, 1), (1, 2)), (1, 1, 1))",
+     "((0, 1, 2, 3), ((), (0, 1, 2)))"),
+    ("None", 'known_gates((("in", 0), ("and", (0, 2)), ("not", 2))), price_ends(((5, 2, 1, 30, (1,)), (3, 1, 4, 30, (0,))))',
+     "((0, 0, None), ((12, 15), (13, 16)))"),
+    (HOUSE, 'net.verdict(), net.do(("wait", 5)), net.known(), net.verdict(), net.undo(), len(net)',
+     "(('rest', (0, 0), 16), None, ((0, 0), (4, 4)), ('rest', (0, 0), 11), True, 0)"),
+    (HOUSE, 'net.do(("rule", 0, ("hear", 1))), net.verdict()', "(None, ('toggle', ((0, 0), (8, 8))))"),
+    (HOUSE, '(net.do(("rule", 0, ("hear", 1))), sheet("toggle", (net.net(),))[2], sheet_holds(("rest", (net.net(),), ())))[1:]',
+     "(((0, 0), (8, 8)), False)"),
 )
 
 MODULES = (rules, nets, tokens, nettexts, reading, lateness, beats, showing, ranges, ways, exactways, ends, resting,
            restpapers, toggles, lots, looseruns, lotpapers, ratios, tablenets, pricing, tablerests, tableruns, shares,
            fastbeats, knotrounds, rests, orbits, traps, stirs, mending, cutting, openparts, endtables, together, stops,
-           plainruns, losses, living, livingchanges, lives, settings)
+           plainruns, losses, living, livingchanges, lives, settings, forcing, sureworths, distancenets, votenets, circuitnets,
+           pricenets, houses, sheets, desk)
 
 
 class ExamplesTest(unittest.TestCase):

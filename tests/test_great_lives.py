@@ -51,7 +51,9 @@ class GreatLivesTest(unittest.TestCase):
             put_together(net, net_of([0], [("is", 0)]), ())
 
     def test_tables_joined(self):
-        net = net_of([26] + [1000] * 9, [("is", 0)] + [("part", 2, ("add", (("hear", house), ("hear", house + 1)))) for house in range(9)])
+        net = net_of([26] + [1000] * 9, [("is", 0)] + [("part", 2,
+                                                        ("add",
+                                                         (("hear", house), ("hear", house + 1)))) for house in range(9)])
         table = ends_table(net, (0,), (9,))
         self.assertEqual(joined_ends(table, table, (0,), (0,)), tuple(
             (ends[0][9:10], ends[1][9:10]) for ends in (last_ends(put_together(net, net, ((0, 19), (10, 9)))),) * 2))
@@ -117,7 +119,8 @@ class GreatLivesTest(unittest.TestCase):
         deep = ()
         for _ in range(45):
             deep = (deep, deep[:1])
-        for value in (("rule", 0, deep), (deep,) * 3, ((1, 2, 3),) * 25000, ("rule", 0, (("is", 1),) * 30000), ("wait", deep)):
+        for value in (("rule", 0, deep), (deep,) * 3, ((1, 2, 3),) * 25000, ("rule", 0, (("is", 1),) * 30000),
+                      ("wait", deep)):
             self.assertIs(is_change(life, value), False)
             self.assertIs(is_life(value), False)
 

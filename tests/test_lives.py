@@ -83,9 +83,11 @@ class LivedTest(unittest.TestCase):
 
 class DiaryTest(unittest.TestCase):
     def test_by_hand(self):
-        changes = (("wait", 5), ("rule", 0, ("most", (("is", 3), ("hear", 1)))), ("rule", 1, ("is", 4)), ("wait", 2), ("seen", 0, 4, 9))
+        changes = (("wait", 5), ("rule", 0, ("most", (("is", 3), ("hear", 1)))), ("rule", 1, ("is", 4)), ("wait", 2),
+                   ("seen", 0, 4, 9))
         self.assertEqual(diary(begun(NET, 2), changes), (
-            (((0, 0), (8, 8)), 16), (((0, 0), (4, 4)), 11), (((0, 0), (4, 4)), None), (((0, 0), (4, 4)), 4), (((3, 4), (4, 4)), 2),
+            (((0, 0), (8, 8)), 16), (((0, 0), (4, 4)), 11), (((0, 0), (4, 4)), None), (((0, 0), (4, 4)), 4),
+            (((3, 4), (4, 4)), 2),
             (((4, 4), (4, 4)), 0)))
         self.assertEqual(diary(begun(NET, 2), list(changes)), diary(begun(NET, 2), changes))
 

@@ -107,9 +107,11 @@ class IsLifeTest(unittest.TestCase):
     def test_forms(self):
         life = (NET, 2, ((0, 0), (8, 8)), 3)
         self.told(True, life)
-        for value in (list(life), life[:3], life + (0,), (life,), (NET, 2, [(0, 0), (8, 8)], 3), (NET, 2, ([0, 0], (8, 8)), 3),
+        for value in (list(life), life[:3], life + (0,), (life,), (NET, 2, [(0, 0), (8, 8)], 3),
+                      (NET, 2, ([0, 0], (8, 8)), 3),
                       (list(NET), 2, life[2], 3), ((list(NET[0]), NET[1]), 2, life[2], 3), (NET, 2, ((0, 0), (8, 9)), 3),
-                      (NET, 2, ((5, 0), (4, 8)), 3), (NET, 2, ((0,), (8,)), 3), (NET, 2, ((0, False), (8, 8)), 3), (2, NET, life[2], 3)):
+                      (NET, 2, ((5, 0), (4, 8)), 3), (NET, 2, ((0,), (8,)), 3), (NET, 2, ((0, False), (8, 8)), 3),
+                      (2, NET, life[2], 3)):
             self.told(False, value)
         for value in ODD_VALUES:
             self.told(False, value)
@@ -153,8 +155,10 @@ class BegunTest(unittest.TestCase):
 class KnownTest(unittest.TestCase):
     def test_by_hand(self):
         life = begun(NET, 2)
-        for age, ends in ((0, ((0, 0), (8, 8))), (1, ((0, 0), (8, 8))), (2, ((0, 0), (4, 8))), (3, ((0, 0), (4, 8))), (5, ((0, 0), (4, 4))),
-                          (6, ((0, 0), (2, 4))), (15, ((0, 0), (0, 1))), (16, ((0, 0), (0, 0))), (10 ** 399, ((0, 0), (0, 0)))):
+        for age, ends in ((0, ((0, 0), (8, 8))), (1, ((0, 0), (8, 8))), (2, ((0, 0), (4, 8))), (3, ((0, 0), (4, 8))),
+                          (5, ((0, 0), (4, 4))),
+                          (6, ((0, 0), (2, 4))), (15, ((0, 0), (0, 1))), (16, ((0, 0), (0, 0))),
+                          (10 ** 399, ((0, 0), (0, 0)))):
             self.assertEqual(known(aged(life, age)), ends)
         for d in range(2, 10):
             life = begun(NET, d)

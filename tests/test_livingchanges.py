@@ -64,12 +64,14 @@ class IsChangeTest(unittest.TestCase):
             self.told(False, ("wait", beats))
 
     def test_rule(self):
-        for rule in (("is", 0), ("hear", 0), ("hear", 1), ("from", 9, ("hear", 0)), ("row", (1, 2), ("hear", 0)), greatest_rule(2)):
+        for rule in (("is", 0), ("hear", 0), ("hear", 1), ("from", 9, ("hear", 0)), ("row", (1, 2), ("hear", 0)),
+                     greatest_rule(2)):
             for house in 0, 1:
                 self.told(True, ("rule", house, rule))
         for house in (2, -1, True, False, None, "0", (0,), 10 ** 399):
             self.told(False, ("rule", house, ("is", 0)))
-        for rule in (("hear", 2), ("add", (("hear", 0), ("hear", 2))), BOTH, ("is", 1001), ("add", (greatest_rule(2),)), ["is", 0],
+        for rule in (("hear", 2), ("add", (("hear", 0), ("hear", 2))), BOTH, ("is", 1001), ("add", (greatest_rule(2),)),
+                     ["is", 0],
                      ("is", True), ("least", [("is", 0)])) + ODD_VALUES:
             self.told(False, ("rule", 0, rule))
 
@@ -82,7 +84,8 @@ class IsChangeTest(unittest.TestCase):
         self.told(True, ("rule", 1, ("row", (0, 2, 1), ("hear", 0))), still)
 
     def test_house(self):
-        for top, rule in ((0, ("is", 0)), (1000, ("hear", 2)), (5, ("add", (("hear", 0), ("hear", 1), ("hear", 2)))), (1, greatest_rule(3))):
+        for top, rule in ((0, ("is", 0)), (1000, ("hear", 2)), (5, ("add", (("hear", 0), ("hear", 1), ("hear", 2)))),
+                          (1, greatest_rule(3))):
             self.told(True, ("house", top, rule))
         for top in (1001, -1, True, False, None, "1", (1,), 10 ** 399):
             self.told(False, ("house", top, ("is", 0)))
@@ -106,8 +109,10 @@ class IsChangeTest(unittest.TestCase):
 
     def test_seen(self):
         self.assertEqual(known(NARROW), ((0, 2), (8, 5)))
-        for low, high, is_one in ((2, 5, True), (0, 2, True), (0, 1, False), (5, 9, True), (6, 9, False), (5, 10 ** 399, True), (3, 3, True),
-                                  (6, 10 ** 399, False), (0, 0, False), (4, 3, False), (9, 1, False), (10 ** 399, 10 ** 399, False)):
+        for low, high, is_one in ((2, 5, True), (0, 2, True), (0, 1, False), (5, 9, True), (6, 9, False),
+                                  (5, 10 ** 399, True), (3, 3, True),
+                                  (6, 10 ** 399, False), (0, 0, False), (4, 3, False), (9, 1, False),
+                                  (10 ** 399, 10 ** 399, False)):
             self.told(is_one, ("seen", 1, low, high), NARROW)
         # What is known at this age counts, not the ends of the life.
         life = (NET, 2, ((0, 0), (8, 8)), 5)
@@ -125,9 +130,12 @@ class IsChangeTest(unittest.TestCase):
             self.told(False, ("seen", 0, odd, odd))
 
     def test_forms(self):
-        for value in (("wait",), ("wait", 1, 1), ["wait", 1], ("Wait", 1), ("waits", 1), (1, "wait"), "wait", ("rule", 0), ("rule", ("is", 0)),
-                      ("rule", 0, ("is", 0), 0), ["rule", 0, ("is", 0)], ("house", 3), ("house", 3, ("is", 0), 1), ["house", 3, ("is", 0)],
-                      ("house", 0, 3, ("is", 0)), ("seen", 0, 0), ("seen", 0, 0, 8, 8), ("seen", 0, (0, 8)), ["seen", 0, 0, 8], ("", 1),
+        for value in (("wait",), ("wait", 1, 1), ["wait", 1], ("Wait", 1), ("waits", 1), (1, "wait"), "wait", ("rule", 0),
+                      ("rule", ("is", 0)),
+                      ("rule", 0, ("is", 0), 0), ["rule", 0, ("is", 0)], ("house", 3), ("house", 3, ("is", 0), 1),
+                      ["house", 3, ("is", 0)],
+                      ("house", 0, 3, ("is", 0)), ("seen", 0, 0), ("seen", 0, 0, 8, 8), ("seen", 0, (0, 8)),
+                      ["seen", 0, 0, 8], ("", 1),
                       ("seen", 0), (("wait", 1),), (b"wait", 1), ({}, 1), ("undo",), ("fix", 0, 1)):
             self.told(False, value)
         for value in ODD_VALUES:

@@ -75,8 +75,10 @@ class AreLossyTest(unittest.TestCase):
         self.told(False, rows_of(-1))
 
     def test_forms(self):
-        for value in ([((1,),)], ([(1,)],), (([1],),), (((True,),),), (((1,),), ((False,),)), (((1.0,),),), ((("1",),),), (((1, 1),),),
-                      (((),),), ((),), (((1,), (1,)),), (((1,),), None), (((1,),), (None,)), (((1,),), ((),)), (1,), ((1,),)):
+        for value in ([((1,),)], ([(1,)],), (([1],),), (((True,),),), (((1,),), ((False,),)), (((1.0,),),), ((("1",),),),
+                      (((1, 1),),),
+                      (((),),), ((),), (((1,), (1,)),), (((1,),), None), (((1,),), (None,)), (((1,),), ((),)), (1,),
+                      ((1,),)):
             self.told(False, value)
         for value in ODD_VALUES:
             self.told(value == () and type(value) is tuple, value)
@@ -122,7 +124,8 @@ class FilledTest(unittest.TestCase):
         self.assertEqual((filled(()), longest_loss(())), ((), 0))
 
     def test_longest_loss(self):
-        for numbers, longest in (((1,), 0), ((1, None), 1), ((1, None, 1, None), 1), ((1, None, None, 1, None), 2), ((3, 2, 1), 0),
+        for numbers, longest in (((1,), 0), ((1, None), 1), ((1, None, 1, None), 1), ((1, None, None, 1, None), 2),
+                                 ((3, 2, 1), 0),
                                  ((1, None, 2, None, None, None), 3), ((1,) + (None,) * 50, 50)):
             self.assertEqual(longest_loss(rows_of(*numbers)), longest)
         # Losses at several branches are not counted together.

@@ -20,7 +20,7 @@ class ReadmeTest(unittest.TestCase):
                     answers[-1] += 1
                 else:
                     exec(row, scope)
-        self.assertEqual(len(answers), 5)
+        self.assertEqual(len(answers), 6)
         self.assertGreater(min(answers), 5)
 
 

@@ -46,7 +46,8 @@ class SettingsTest(Refusing):
             self.assertEqual(told, tuple(itertools.product(*[range(net[0][house] + 1) for house in inputs])))
 
     def test_just_2000_and_more(self):
-        for tops, inputs in (((19, 9, 9), (0, 1, 2)), ((999, 1, 1, 0), (0, 1)), ((999, 1, 1, 0), (0, 2, 3)), ((1, 3, 4, 4, 9), (0, 1, 2, 3, 4))):
+        for tops, inputs in (((19, 9, 9), (0, 1, 2)), ((999, 1, 1, 0), (0, 1)), ((999, 1, 1, 0), (0, 2, 3)),
+                             ((1, 3, 4, 4, 9), (0, 1, 2, 3, 4))):
             net = net_of(tops, [("is", 0)] * len(tops))
             self.assertEqual(len(settings(net, inputs)), 2000)
             self.assertEqual(resting_settings(net, inputs), settings(net, inputs))
@@ -55,6 +56,7 @@ class SettingsTest(Refusing):
         for ask in ALL:
             self.refused(4000, ask, net, (0, 1, 2))
             self.refused(2002, ask, net_of([1000, 1], [("is", 0)] * 2), (0, 1))
+            self.refused(2001, ask, net_of([2, 22, 28], [("is", 0)] * 3), (0, 1, 2))
             self.refused(2058, ask, net_of([20, 13, 6], [("is", 0)] * 3), (0, 1, 2))
             self.refused(1001 ** 20, ask, net_of([1000] * 20, [("is", 0)] * 20), tuple(range(20)))
 
@@ -114,7 +116,8 @@ class RestingSettingsTest(unittest.TestCase):
         for _ in range(25):
             low = rng.randrange(1, 40)
             net = net_of([40, 9, 9], [
-                ("hear", 1), ("bar", low, 3, 9, ("least", (("hear", 0), ("times", 12, ("hear", 2))))), ("from", 9, ("hear", 1))])
+                ("hear", 1), ("bar", low, 3, 9, ("least", (("hear", 0), ("times", 12, ("hear", 2))))),
+                ("from", 9, ("hear", 1))])
             resting = tuple((worth,) for worth in range(41) if rests_always(set_net(net, (0,), (worth,))))
             self.assertEqual(resting_settings(net, (0,)), resting)
             self.assertEqual(first_toggling(net, (0,)), next((

@@ -68,7 +68,8 @@ class IsStoppedRunTest(unittest.TestCase):
                     self.told(many < e, (still, beats_of(*pairs)), SELF, 2, e)
         # The windows at the begin and at the end, one by one.
         self.told(True, (((9,),) * 2, beats_of((False, 1), (True, 1), (False, 1), (True, 1), (False, 1))), SELF, 2, 2)
-        self.told(False, (((9,),) * 2, beats_of((False, 1), (True, 1), (False, 1), (True, 1), (False, 1), (False, 1))), SELF, 2, 2)
+        self.told(False, (((9,),) * 2, beats_of((False, 1), (True, 1), (False, 1), (True, 1), (False, 1), (False, 1))), SELF,
+                  2, 2)
         self.told(False, (((9,),) * 2, beats_of((False, 1), (False, 1), (True, 1))), SELF, 2, 2)
         self.told(False, (((9,),) * 2, beats_of((True, 1), (False, 1), (False, 1), (True, 1))), SELF, 2, 2)
 
@@ -101,7 +102,8 @@ class IsStoppedRunTest(unittest.TestCase):
     def test_forms(self):
         past, beats = RUN
         for value in ([past, beats], (past,), (past, beats, ()), (past, list(beats)), (list(past), beats), (past[:1], beats),
-                      (past * 2, beats), (((3, 0), (2, 4)), beats), (past, (list(beats[0]),) + beats[1:]), (past, (beats[0][:1],)),
+                      (past * 2, beats), (((3, 0), (2, 4)), beats), (past, (list(beats[0]),) + beats[1:]),
+                      (past, (beats[0][:1],)),
                       (past, (beats[0] + ((),),)), (past, ((beats[0][0], [(1,), (1,)]),)), (past, None), (None, beats),
                       (past, ((beats[0][0], ((1,), (3,))),)), (past, ((beats[0][0], ((1,), (0,))),)),
                       (past, ((beats[0][0], ((1,), (True,))),)), (past, ((beats[0][0], ((1,),)),)),

@@ -37,7 +37,8 @@ class PutTogetherTest(unittest.TestCase):
 
     def test_how_many_houses(self):
         for one, other in ((10, 10), (1, 19), (19, 1)):
-            told = put_together(net_of([1] * one, [("hear", 0)] * one), net_of([1] * other, [("hear", other - 1)] * other), ())
+            told = put_together(net_of([1] * one, [("hear", 0)] * one), net_of([1] * other, [("hear", other - 1)] * other),
+                                ())
             self.assertEqual(told[1], (("hear", 0),) * one + (("hear", 19),) * other)
         for one, other in ((10, 11), (20, 1), (1, 20), (20, 20)):
             with self.assertRaises(InvalidNet) as caught:
@@ -97,7 +98,8 @@ class JoinedEndsTest(unittest.TestCase):
             ties = [(house, many + other_outputs[at]) for house, at in zip(inputs, heard)]
             ties += [(many + house, outputs[at]) for house, at in zip(other_inputs, brought)]
             ends = last_ends(put_together(first, second, tuple(ties)))
-            told = joined_ends(ends_table(first, inputs, outputs), ends_table(second, other_inputs, other_outputs), heard, brought)
+            told = joined_ends(ends_table(first, inputs, outputs), ends_table(second, other_inputs, other_outputs), heard,
+                               brought)
             self.assertEqual(told, (parts_of(ends, outputs), parts_of(ends, [many + house for house in other_outputs])))
             seen[told[0][0] == told[0][1] and told[1][0] == told[1][1]] += 1
         self.assertGreater(min(seen), 20)

@@ -5,9 +5,10 @@ import random
 import unittest
 
 from newsbehind import (
-    beats, cutting, ends, endtables, exactways, fastbeats, knotrounds, lateness, lives, living, livingchanges, looseruns, losses,
-    lotpapers, lots, mending, nets, nettexts, openparts, orbits, plainruns, pricing, ranges, ratios, reading, resting, restpapers,
-    rests, rules, settings, shares, showing, stirs, stops, tablenets, tablerests, tableruns, together, toggles, tokens, traps, ways,
+    beats, circuitnets, cutting, distancenets, ends, endtables, exactways, fastbeats, forcing, knotrounds, lateness, lives, living,
+    livingchanges, looseruns, losses, lotpapers, lots, mending, nets, nettexts, openparts, orbits, plainruns, pricenets, pricing,
+    ranges, ratios, reading, resting, restpapers, rests, rules, settings, shares, sheets, showing, stirs, stops, sureworths,
+    tablenets, tablerests, tableruns, together, toggles, tokens, traps, votenets, ways,
 )
 from newsbehind.errors import InvalidQuestion, Refused
 from newsbehind.nettexts import net_text
@@ -60,13 +61,22 @@ INTERFACE = {
     livingchanges: "is_change changed",
     lives: "lived diary",
     settings: "settings set_net resting_settings first_toggling",
+    forcing: "forcing answer",
+    sureworths: "sure_ends sure_houses all_sure is_sure_paper",
+    distancenets: "distance_net distances slow_rounds",
+    votenets: "vote_net won standing_lots",
+    circuitnets: "is_circuit circuit_net known_gates",
+    pricenets: "price_net price_ends",
+    sheets: "sheet_holds sheet wrong_sheets",
 }
 # Here a net, a house and so on are those of chapters 9 and 10.
 TABLES = (tablenets, pricing, tablerests, tableruns, shares, fastbeats)
 # Here they are a net with a rest, or with inputs.
 MENDING = (stirs, mending, cutting, openparts)
 # Here they are a net with inputs and outputs, of two parts, with stops and losses, or with a life.
-LIVING = (endtables, together, stops, plainruns, losses, living, livingchanges, lives, settings)
+LIVING = (endtables, together, stops, plainruns, losses, living, livingchanges, lives, settings, forcing, sureworths)
+# Here something is worked into a net, or looked at as a sheet.
+WORKED = (distancenets, votenets, circuitnets, pricenets, sheets)
 ARGUMENTS = {
     "is_rule": "value", "branches": "rule", "told": "rule heard", "is_net": "value", "is_state": "net value",
     "net_of": "tops rules", "wanted": "net house heard", "heard_in": "net house state", "next_state": "net state",
@@ -102,7 +112,12 @@ ARGUMENTS = {
     "settled_with": "net d e loss", "closed": "net ends", "is_life": "value", "begun": "net d", "known": "life",
     "rests_in": "life", "is_change": "life value", "changed": "life change", "lived": "life changes",
     "diary": "life changes", "settings": "net inputs", "set_net": "net inputs setting", "resting_settings": "net inputs",
-    "first_toggling": "net inputs",
+    "first_toggling": "net inputs", "forcing": "net mine others", "answer": "net mine others setting",
+    "sure_ends": "net inputs", "sure_houses": "net inputs", "all_sure": "net inputs", "is_sure_paper": "net inputs value",
+    "distance_net": "n lengths goal top", "distances": "n lengths goal top", "slow_rounds": "n lengths goal top",
+    "vote_net": "n links needs", "won": "n links needs seeds", "standing_lots": "n links needs", "is_circuit": "value",
+    "circuit_net": "gates", "known_gates": "gates", "price_net": "offers", "price_ends": "offers", "sheet_holds": "value",
+    "sheet": "name question", "wrong_sheets": "values",
 }
 
 
@@ -174,7 +189,24 @@ def living_arguments(rng):
         "unlike_row.other": endtables.ends_table(net, (0,), (0, 1)), "first": net, "second": second, "ties": ((0, 4), (3, 1)),
         "joined_ends.first": table, "joined_ends.second": endtables.ends_table(second, (0, 1), (1,)), "heard": (0,), "brought": (1, 0),
         "d": d, "e": e, "loss": loss, "run": run, "rows": rows, "ends": ends, "life": life, "value": rng.choice(values + changes),
-        "change": rng.choice(changes[:3]), "changes": changes[:rng.choice((0, 3, 4))], "setting": (0, 0),
+        "change": rng.choice(changes[:3]), "changes": changes[:rng.choice((0, 3, 4))], "setting": (0, 0), "mine": inputs,
+        "others": tuple(house for house in range(3) if house not in inputs),
+        "is_sure_paper.value": rng.choice((((((0,) * 3, net[0]),) * 2), [((0,) * 3, net[0])], (([0] * 3, net[0]),), (ends, [ends]))),
+    }
+
+
+def worked_arguments(rng):
+    """For each name of an argument something to pass to the functions of worked nets and of sheets."""
+    net, table = one_way(rng, small_net(rng)), drawn_table_net(rng, houses=2)
+    lists = [[1, [2]], ("rest", [net], ()), ["rest", (net,), ()], ("trap", (net,), list(ends.last_ends(net))), {"is": [0]}, [net]]
+    gates = (("in", 1), ("or", (1, 2)), ("and", (0, 1)), ("not", 0))
+    values = lists + [("trap", (net,), ends.last_ends(net)), ("share", (table, 3), shares.share_between(table, 3)), gates, list(gates)]
+    name, question = rng.choice((("trap", (net,)), ("share", (table, 2)), ("rest", (net,)), ("swing", (table,)), ("trap", [net]), ([], net)))
+    return {
+        "n": 4, "lengths": ((0, 1, 2), (1, 2, 9), (2, 0, 1)), "goal": rng.randrange(4), "top": 9, "links": ((0, 1), (1, 2), (1, 3)),
+        "needs": tuple(rng.randrange(4) for _ in range(4)), "seeds": (rng.randrange(4),), "gates": gates, "name": name,
+        "question": question, "offers": ((5, 2, 1, 30, (1,)), (3, 1, 4, 30, (0,)), (3, 1, 4, 9, ())), "value": rng.choice(values),
+        "values": values if rng.random() < 0.7 else tuple(values),
     }
 
 
@@ -217,7 +249,8 @@ class ValuesTest(unittest.TestCase):
     def drawn(self, rng):
         """For each module with arguments of its own what to pass."""
         drawn = {}
-        for modules, draw in ((TABLES, table_arguments), (MENDING, mending_arguments), (LIVING, living_arguments)):
+        for modules, draw in ((TABLES, table_arguments), (MENDING, mending_arguments), (LIVING, living_arguments),
+                              (WORKED, worked_arguments)):
             drawn.update(dict.fromkeys(modules, draw(rng)))
         return drawn
 
@@ -260,7 +293,7 @@ class ValuesTest(unittest.TestCase):
             passed, drawn = arguments(rng), self.drawn(rng)
             for module, function in self.functions():
                 name = function.__name__
-                if name.startswith(("is_", "can_follow", "are_", "rests_always", "has_", "calms", "cuts_calm")):
+                if name.startswith(("is_", "can_follow", "are_", "rests_always", "has_", "calms", "cuts_calm", "all_sure", "sheet_holds")):
                     kind, told = asked(function, self.given(name, drawn.get(module, passed)))
                     self.assertTrue(kind != "told" or repr(told) in ("True", "False"), name)
 
