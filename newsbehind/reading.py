@@ -5,6 +5,7 @@ from newsbehind.drafts import NetDraft
 from newsbehind.errors import InvalidText
 from newsbehind.tokens import number_of, tokens_of
 
+
 def _may_take(draft, token):
     words, low, high = draft.follow()
     return token in words or low <= number_of(token, len(str(MOST_NUMBER))) <= high

@@ -24,7 +24,7 @@ def lead_on(net, words, paper):
     return True
 
 
-def are_papers(net, value):
+def is_row_of_ends(net, value):
     """Whether any value is a tuple of one or more ends."""
     return isinstance(value, tuple) and len(value) > 0 and all(are_ends(net, entry) for entry in value)
 
@@ -32,7 +32,7 @@ def are_papers(net, value):
 def is_rest_paper(net, value):
     """Whether any value is a paper that shows that a net rests always."""
     words = one_way_words(net)
-    if not are_papers(net, value) or not lead_on(net, words, value):
+    if not is_row_of_ends(net, value) or not lead_on(net, words, value):
         return False
     lows, highs = value[-1]
     return lows == highs

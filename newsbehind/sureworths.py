@@ -2,7 +2,7 @@
 
 from newsbehind.boxes import box_of
 from newsbehind.nets import with_rule
-from newsbehind.restpapers import are_papers, lead_on
+from newsbehind.restpapers import is_row_of_ends, lead_on
 from newsbehind.ways import one_way_words
 
 
@@ -30,7 +30,7 @@ def all_sure(net, inputs):
 def is_sure_paper(net, inputs, value):
     """Whether any value is a paper that shows that all others come to one worth whatever the inputs show."""
     one_way_words(net)
-    if not are_papers(net, value):
+    if not is_row_of_ends(net, value):
         return False
     # An input that hears itself alone keeps the ends of the first entry, 0 and its top.
     for house in inputs:

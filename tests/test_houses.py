@@ -15,6 +15,7 @@ from newsbehind.toggles import toggle_run
 from sampling import ODD_VALUES, drawn_lateness, drawn_past, drawn_run, one_way, small_net
 from test_livingchanges import drawn_change, drawn_rule
 from test_traps import within
+from test_values import is_of_tuples
 
 TEXT = "house 0 top 8 : part 2 ( of 1 ) ; house 1 top 8 : of 0 ;"
 NET = net_of([8, 8], [("part", 2, ("hear", 1)), ("hear", 0)])
@@ -57,6 +58,18 @@ class HouseTest(unittest.TestCase):
         self.refused(InvalidQuestion, 2, BOTH, 1)
         self.refused(Refused, 1, BOTH, 2)
         self.refused(Refused, 0, BOTH.replace(" : 1 ;", " : row 1 0 1 ( of 1 ) ;"), 9)
+
+    def test_what_is_told_is_of_tuples_and_told_again(self):
+        rng = random.Random(731)
+        for _ in range(30):
+            house = drawn_house(rng)
+            for _ in range(3):
+                house.do(drawn_change(rng, house.life()))
+            for ask in house.life, house.net, house.known, house.verdict:
+                told = ask()
+                self.assertIs(is_of_tuples(told), True)
+                self.assertEqual(ask(), told)
+            self.assertEqual(len(house), 3)
 
     def test_equal_to_nothing_else(self):
         house = House(TEXT, 2)
